@@ -1,0 +1,170 @@
+"""The form of the package's files, as far as a test can see it, and the names of the interface."""
+
+import ast
+import inspect
+import pathlib
+import re
+import unittest
+
+import mintlots
+from mintlots import lots, payments
+
+FOLDER = pathlib.Path(mintlots.__file__).parent
+FILES = sorted(path for path in FOLDER.rglob("*") if path.is_file() and "__pycache__" not in path.parts)
+
+BUILTINS = set("""len range enumerate zip min max sum abs sorted reversed int str bool bytes list tuple dict set
+frozenset isinstance ord repr any all divmod Exception ValueError TypeError KeyError IndexError LookupError ZeroDivisionError
+ArithmeticError OverflowError RuntimeError NotImplementedError AttributeError StopIteration NotImplemented
+iter next map super property classmethod staticmethod""".split())
+LIBRARY = {
+    "heapq": set("heappush heappop heapify heapreplace heappushpop".split()),
+    "math": set("gcd lcm isqrt comb perm factorial".split()),
+    "itertools": set("product combinations permutations".split()),
+}
+METHODS = set("""append clear copy count endswith extend find get index insert isalnum isalpha isdigit islower isspace
+isupper items join keys ljust lower lstrip partition pop remove replace reverse rfind rjust rpartition rsplit rstrip
+setdefault split splitlines startswith strip update upper values zfill bit_length add discard""".split())
+TAKE_LISTS = set("any all min max sum sorted".split())
+DECORATORS = set("property classmethod staticmethod".split())
+
+INTERFACE = {
+    lots: "divisor(lot) lean(lot) is_paid(lot,amount) least_sums(lot,coin) missed(lot) count_missed(lot) "
+          "last_missed(lot) pay_alike(one,other) first_unlike(one,other) is_within(one,other) joined(one,other)",
+    payments: "count_payments(lot,small) payments(lot,small) nth_payment(lot,small,index) place_of(lot,payment) "
+              "first_payment(lot,amount) last_payment(lot,amount) great_count(lot,amount)",
+}
+
+
+def tree_of(path):
+    return ast.parse(path.read_text(encoding="utf-8"))
+
+
+def bound_names(tree):
+    """All names that a file binds, at module level or within."""
+    names = set()
+    for node in ast.walk(tree):
+        if isinstance(node, (ast.FunctionDef, ast.ClassDef)):
+            names.add(node.name)
+        elif isinstance(node, ast.alias):
+            names.add(node.asname or node.name)
+        elif isinstance(node, ast.arg):
+            names.add(node.arg)
+        elif isinstance(node, ast.Name) and not isinstance(node.ctx, ast.Load):
+            names.add(node.id)
+    return names
+
+
+class FormTest(unittest.TestCase):
+    def each_node(self):
+        for path in FILES:
+            for node in ast.walk(tree_of(path)):
+                yield path.name, node
+
+    def test_only_plain_files(self):
+        for path in FILES:
+            self.assertRegex(path.name, r"\A[a-z0-9_]+\.py\Z")
+        self.assertIn(FOLDER / "__init__.py", FILES)
+
+    def test_lines(self):
+        for path in FILES:
+            text = path.read_text(encoding="utf-8")
+            self.assertIsNone(re.search(r"[^ -~\n]", text), path)
+            lines = text.split("\n")
+            self.assertLessEqual(len(lines), 399, path)
+            self.assertLessEqual(max(map(len, lines)), 120, path)
+
+    def test_small_functions(self):
+        for name, node in self.each_node():
+            if isinstance(node, ast.FunctionDef):
+                self.assertLessEqual(node.end_lineno - node.lineno + 1, 40, (name, node.name))
+
+    def test_imports(self):
+        for name, node in self.each_node():
+            self.assertNotIsInstance(node, ast.Import, name)
+            if isinstance(node, ast.ImportFrom):
+                self.assertEqual(node.level, 0)
+                names = {alias.name for alias in node.names}
+                if node.module in LIBRARY:
+                    self.assertLessEqual(names, LIBRARY[node.module])
+                    continue
+                self.assertTrue(node.module.startswith("mintlots."), (name, node.module))
+                source = FOLDER / (node.module.split(".")[1] + ".py")
+                defined = {part.name for part in tree_of(source).body
+                           if isinstance(part, (ast.FunctionDef, ast.ClassDef))}
+                defined |= {part.targets[0].id for part in tree_of(source).body if isinstance(part, ast.Assign)}
+                self.assertLessEqual(names, defined, name)
+
+    def test_imports_are_used(self):
+        for path in FILES:
+            tree = tree_of(path)
+            told = {alias.name for node in ast.walk(tree) if isinstance(node, ast.ImportFrom) for alias in node.names}
+            used = {node.id for node in ast.walk(tree) if isinstance(node, ast.Name)}
+            self.assertLessEqual(told, used, path)
+
+    def test_names(self):
+        known = set(dir(__import__("builtins")))
+        for path in FILES:
+            tree = tree_of(path)
+            bound = bound_names(tree)
+            self.assertEqual(bound & known, set(), path)
+            read = {node.id for node in ast.walk(tree) if isinstance(node, ast.Name) and isinstance(node.ctx, ast.Load)}
+            self.assertLessEqual(read - bound, BUILTINS, path)
+
+    def test_methods(self):
+        own = {node.name for _, node in self.each_node() if isinstance(node, ast.FunctionDef)}
+        for name, node in self.each_node():
+            if isinstance(node, ast.Call) and isinstance(node.func, ast.Attribute):
+                self.assertIn(node.func.attr, METHODS | own, name)
+
+    def test_expressions(self):
+        for name, node in self.each_node():
+            self.assertNotIsInstance(node, (ast.Div, ast.Global, ast.AsyncFunctionDef, ast.Await), name)
+            if isinstance(node, ast.Constant):
+                self.assertNotIsInstance(node.value, (float, complex), name)
+                if isinstance(node.value, str):
+                    self.assertNotIn("%", node.value, name)
+            if isinstance(node, ast.BinOp) and isinstance(node.op, ast.Pow):
+                self.assertIsInstance(node.right, ast.Constant, name)
+            if isinstance(node, ast.Compare):
+                for sign, right in zip(node.ops, node.comparators):
+                    if isinstance(sign, (ast.Is, ast.IsNot)):
+                        self.assertIsInstance(right, ast.Constant, name)
+            if isinstance(node, ast.Call) and isinstance(node.func, ast.Name) and node.func.id in TAKE_LISTS:
+                self.assertNotIsInstance(node.args[0], ast.GeneratorExp, name)
+            if isinstance(node, (ast.FunctionDef, ast.ClassDef)):
+                for decorator in node.decorator_list:
+                    self.assertIn(decorator.id, DECORATORS, name)
+
+    def test_module_level(self):
+        for path in FILES:
+            for at, node in enumerate(tree_of(path).body):
+                if at == 0:
+                    self.assertIsInstance(node, ast.Expr, path)
+                    continue
+                self.assertIsInstance(node, (ast.ImportFrom, ast.FunctionDef, ast.ClassDef, ast.Assign), path)
+
+
+class InterfaceTest(unittest.TestCase):
+    def test_functions_and_their_parameters(self):
+        for module, told in INTERFACE.items():
+            for text in told.split():
+                name, rest = text[:-1].split("(")
+                function = vars(module)[name]
+                with self.subTest(name=name):
+                    self.assertTrue(inspect.isfunction(function))
+                    self.assertEqual(function.__module__, module.__name__)
+                    parameters = inspect.signature(function).parameters.values()
+                    self.assertEqual([one.name for one in parameters], rest.split(","))
+                    self.assertEqual({one.kind for one in parameters}, {inspect.Parameter.POSITIONAL_OR_KEYWORD})
+
+    def test_the_class(self):
+        own = vars(lots.Lot)
+        self.assertEqual(lots.Lot.__module__, "mintlots.lots")
+        self.assertIsInstance(own["read"], classmethod)
+        self.assertIsInstance(own["coins"], property)
+        self.assertEqual(list(inspect.signature(lots.Lot).parameters), ["coins"])
+        self.assertEqual(list(inspect.signature(lots.Lot.read).parameters), ["text"])
+
+
+if __name__ == "__main__":
+    unittest.main()

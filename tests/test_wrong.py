@@ -1,0 +1,192 @@
+"""[3], [4], [5]: wrong arguments, alone and several at once, for every function of lots and payments."""
+
+import itertools
+import unittest
+
+from mintlots import lots, payments
+from mintlots.errors import (InvalidAmount, InvalidNumber, InvalidPayment, Missed, NoEnd, NoSuchCoin, NotALot, TooMany)
+from mintlots.lots import Lot
+
+
+class Odd:
+    """A value that must not be compared, counted or shown."""
+
+    def __eq__(self, other):
+        raise AssertionError("compared")
+
+    def __bool__(self):
+        raise AssertionError("tested")
+
+    def __len__(self):
+        raise AssertionError("counted")
+
+    def __int__(self):
+        raise AssertionError("taken for a number")
+
+    def __index__(self):
+        raise AssertionError("taken for a number")
+
+    def __iter__(self):
+        raise AssertionError("gone through")
+
+
+def nested(depth):
+    value = ()
+    for _ in range(depth):
+        value = (value,)
+    return value
+
+
+class LooksLikeALot:
+    coins = (5, 8)
+
+
+OTHERS = (None, True, False, "", "5", "5 8", "0", b"", b"5", [], [0], [5, 8], [[], {}], {}, {"coins": (5, 8)}, {5: 8},
+          set(), {5}, object(), Odd(), LooksLikeALot(), len, int, Lot, nested(10), range(5), ValueError("x"))
+NOT_A_LOT = OTHERS + (0, 5, -1, 10 ** 30, 10 ** 100, (), (5, 8), (Lot((5, 8)),), [Lot((5, 8))])
+NOT_AN_AMOUNT = OTHERS + (-1, -10 ** 99, 10 ** 30 + 1, 10 ** 31, 10 ** 99, (), (5,), Lot((5, 8)))
+NOT_SMALL = NOT_AN_AMOUNT + (401, 402, 10 ** 30)
+NOT_AN_INDEX = OTHERS + (-1, 3, 10 ** 99, (), (0,), Lot((5, 8)))
+NOT_A_COIN = OTHERS + (0, -3, 1, 4, 8, 60, 10 ** 99, (), (3,), Lot((3,)))
+NOT_A_PAYMENT = tuple(value for value in OTHERS if not isinstance(value, tuple)) + (0, 5, 10 ** 99, Lot((5, 8)))
+
+ODD = Lot((3, 5, 7))
+
+# For each kind of parameter: a right value, wrong ones, their error and what it must have.
+KINDS = {
+    "lot": (ODD, NOT_A_LOT, NotALot, "given"),
+    "one": (ODD, NOT_A_LOT, NotALot, "given"),
+    "other": (Lot((5, 8)), NOT_A_LOT, NotALot, "given"),
+    "amount": (15, NOT_AN_AMOUNT, InvalidAmount, "given"),
+    "small": (15, NOT_SMALL, InvalidAmount, "given"),
+    "index": (2, NOT_AN_INDEX, InvalidNumber, "given"),
+    "coin": (3, NOT_A_COIN, NoSuchCoin, "given"),
+    "payment": ((5, 0, 0), NOT_A_PAYMENT, InvalidPayment, "none"),
+}
+
+FUNCTIONS = (
+    (lots.divisor, "lot"), (lots.lean, "lot"), (lots.is_paid, "lot amount"), (lots.least_sums, "lot coin"),
+    (lots.missed, "lot"), (lots.count_missed, "lot"), (lots.last_missed, "lot"), (lots.pay_alike, "one other"),
+    (lots.first_unlike, "one other"), (lots.is_within, "one other"), (lots.joined, "one other"),
+    (payments.count_payments, "lot small"), (payments.payments, "lot small"),
+    (payments.nth_payment, "lot small index"), (payments.place_of, "lot payment"),
+    (payments.first_payment, "lot amount"), (payments.last_payment, "lot amount"),
+    (payments.great_count, "lot amount"),
+)
+
+
+class WrongTest(unittest.TestCase):
+    def check(self, call, error, kind, value):
+        with self.assertRaises(error) as caught:
+            call()
+        self.assertIs(type(caught.exception), error)
+        if kind == "given":
+            self.assertIs(caught.exception.given, value)
+        else:
+            self.assertIsNone(caught.exception.index)
+
+    def test_all_right(self):
+        for function, told in FUNCTIONS:
+            right = {name: KINDS[name][0] for name in told.split()}
+            self.assertEqual(function(**right), function(*right.values()))
+            self.assertEqual(function(**right), function(**dict(reversed(list(right.items())))))
+
+    def test_one_wrong_argument(self):
+        for function, told in FUNCTIONS:
+            names = told.split()
+            for name in names:
+                _, wrong, error, kind = KINDS[name]
+                for value in wrong:
+                    values = {each: value if each == name else KINDS[each][0] for each in names}
+                    with self.subTest(function=function.__name__, name=name, kind=type(value)):
+                        self.check(lambda: function(**values), error, kind, value)
+                        self.check(lambda: function(*values.values()), error, kind, value)
+
+    def test_several_wrong_arguments(self):
+        for function, told in FUNCTIONS:
+            names = told.split()
+            for number in range(2, len(names) + 1):
+                for bad in itertools.combinations(names, number):
+                    for value in NOT_A_PAYMENT:
+                        if type(value) is int:
+                            continue
+                        values = {each: value if each in bad else KINDS[each][0] for each in names}
+                        _, _, error, kind = KINDS[bad[0]]
+                        with self.subTest(function=function.__name__, bad=bad, kind=type(value)):
+                            if isinstance(value, Lot):
+                                values[bad[0]] = 1000 if bad[0] == "small" else None
+                            self.check(lambda: function(**values), error, kind, values[bad[0]])
+                            self.check(lambda: function(*values.values()), error, kind, values[bad[0]])
+
+
+class LastTest(unittest.TestCase):
+    """What is told with "last" comes behind the errors of all arguments."""
+
+    def test_joined(self):
+        many = Lot(tuple(range(30, 45)))
+        with self.assertRaises(NotALot):
+            lots.joined(many, (45,))
+        with self.assertRaises(NotALot):
+            lots.joined((45,), many)
+
+    def test_payments(self):
+        with self.assertRaises(InvalidAmount):
+            payments.payments(Lot(tuple(range(1, 16))), 401)
+        with self.assertRaises(TooMany):
+            payments.payments(Lot(tuple(range(1, 16))), 400)
+
+    def test_place_of(self):
+        with self.assertRaises(InvalidPayment):
+            payments.place_of(ODD, (1000, 1000, None))
+        with self.assertRaises(NotALot):
+            payments.place_of((3, 5, 7), (1000, 1000, 1000))
+        with self.assertRaises(TooMany):
+            payments.place_of(ODD, (1000, 1000, 1000))
+
+    def test_first_and_last_payment(self):
+        for call in (payments.first_payment, payments.last_payment):
+            with self.assertRaises(InvalidAmount):
+                call(Lot((60,)), 10 ** 30 + 1)
+            with self.assertRaises(NotALot):
+                call("60", 59)
+            with self.assertRaises(Missed) as caught:
+                call(Lot((60,)), 59)
+            self.assertEqual(caught.exception.given, 59)
+
+    def test_great_count(self):
+        with self.assertRaises(InvalidAmount):
+            payments.great_count(Lot((59, 60)), -1)
+        with self.assertRaises(InvalidAmount):
+            payments.great_count(Lot((59, 60)), True)
+        with self.assertRaises(TooMany):
+            payments.great_count(Lot((59, 60)), 1)
+
+    def test_no_end(self):
+        for call in (lots.missed, lots.count_missed, lots.last_missed):
+            with self.assertRaises(NotALot):
+                call((6, 10))
+            with self.assertRaises(NoEnd):
+                call(Lot((6, 10)))
+
+    def test_nth_payment_of_a_missed_sum(self):
+        with self.assertRaises(InvalidAmount):
+            payments.nth_payment(Lot((5, 8)), 401, 0)
+        with self.assertRaises(InvalidNumber):
+            payments.nth_payment(Lot((5, 8)), 27, 0)
+
+
+class EdgesTest(unittest.TestCase):
+    def test_the_limits_themselves_are_right(self):
+        for amount in (0, 10 ** 30):
+            self.assertIs(lots.is_paid(ODD, amount), True)
+            payments.first_payment(ODD, amount)
+            payments.last_payment(ODD, amount)
+            payments.great_count(ODD, amount)
+        for small in (0, 400):
+            payments.count_payments(ODD, small)
+            payments.nth_payment(ODD, small, 0)
+            self.assertEqual(len(payments.payments(Lot((59, 60)), small)), 1 if small == 0 else 0)
+
+
+if __name__ == "__main__":
+    unittest.main()
