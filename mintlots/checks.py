@@ -1,7 +1,10 @@
 """Checks of arguments that several modules share."""
 
-from mintlots.errors import InvalidAmount, InvalidPayment
+from mintlots.errors import InvalidAmount, InvalidNumber, InvalidPayment, InvalidPrice
 from mintlots.limits import MOST_AMOUNT, MOST_SMALL
+
+# The document names this limit at each place where it holds, but not among the limits.
+MOST_STEP = 4000
 
 
 def is_integer(value):
@@ -26,12 +29,35 @@ def check_small(small):
         raise InvalidAmount(small)
 
 
+def check_price(price):
+    """InvalidPrice for what is no price that the package takes."""
+    if not is_between(price, -MOST_AMOUNT, MOST_AMOUNT):
+        raise InvalidPrice(price)
+
+
+def check_number(number, low, high):
+    """InvalidNumber for what is no integer from `low` to `high`."""
+    if not is_between(number, low, high):
+        raise InvalidNumber(number)
+
+
+def count_told(payment, kinds):
+    """How many elements of a tuple, from the first one on, can stand in a payment by so many kinds of coins."""
+    for at, many in enumerate(payment):
+        if at == kinds or not is_integer(many) or many < 0:
+            return at
+    return len(payment)
+
+
+def is_payment(value, kinds):
+    """Whether it is a payment by a lot of so many kinds of coins."""
+    return isinstance(value, tuple) and len(value) == kinds and count_told(value, kinds) == kinds
+
+
 def check_payment(payment, kinds):
     """InvalidPayment for what is no payment by a lot of so many kinds of coins."""
     if not isinstance(payment, tuple):
         raise InvalidPayment(None)
-    for at, many in enumerate(payment):
-        if at == kinds or not is_integer(many) or many < 0:
-            raise InvalidPayment(at)
-    if len(payment) < kinds:
-        raise InvalidPayment(len(payment))
+    told = count_told(payment, kinds)
+    if told < len(payment) or told < kinds:
+        raise InvalidPayment(told)

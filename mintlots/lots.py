@@ -91,26 +91,31 @@ def lean(lot):
     return Lot(lean_coins(lot.coins))
 
 
-def put_coin(table, coin):
-    """Lowers the least sums in a table, one for each rest, to what they are with a coin more."""
+def put_step(table, step, cost):
+    """Lowers the least totals in a table, one for each rest, to what they are with one kind of steps more."""
     size = len(table)
-    common = gcd(size, coin)
+    common = gcd(size, step)
     for start in range(common):
         at = start
-        # The coin leads through all rests of a round; the least one may be met last, so the round is gone twice.
+        # The step leads through all rests of a round; the least one may be met last, so the round is gone twice.
         for _ in range(2 * (size // common)):
-            then = (at + coin) % size
-            if table[at] is not None and (table[then] is None or table[at] + coin < table[then]):
-                table[then] = table[at] + coin
+            then = (at + step) % size
+            if table[at] is not None and (table[then] is None or table[at] + cost < table[then]):
+                table[then] = table[at] + cost
             at = then
+
+
+def least_totals(steps, size):
+    """The tuple of the least costs that lead to the rests 0, 1, .. by `size`, None for none; a step is (STEP, COST)."""
+    table = [0] + [None] * (size - 1)
+    for step, cost in steps:
+        put_step(table, step, cost)
+    return tuple(table)
 
 
 def least_by_rest(coins, size):
     """The tuple of the least sums, of those that the coins pay, with the rests 0, 1, .. by `size`, None for none."""
-    table = [0] + [None] * (size - 1)
-    for coin in coins:
-        put_coin(table, coin)
-    return tuple(table)
+    return least_totals([(coin, coin) for coin in coins], size)
 
 
 def is_reached(table, amount):

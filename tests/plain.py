@@ -125,3 +125,59 @@ EDGE_COINS = (
 TRIED_COINS = EDGE_COINS + tuple(some_coins(1, 90))
 
 TRIED_LOTS = tuple(Lot(coins) for coins in TRIED_COINS)
+
+
+@lru_cache(maxsize=None)
+def lengths_tables(coins, top):
+    """The least and the greatest lengths of 0, 1, .. up to `top`, None for what is missed, by going on step by step."""
+    fewest, most = [0], [0]
+    for amount in range(1, top + 1):
+        for table, choose in ((fewest, min), (most, max)):
+            ahead = [table[amount - coin] for coin in coins if coin <= amount and table[amount - coin] is not None]
+            table.append(choose(ahead) + 1 if ahead else None)
+    return fewest, most
+
+
+def rest_costs(costs, size):
+    """The least cost of all sums with the rests 0, 1, .. by `size`; `costs` are pairs of a sum and its cost."""
+    least = [None] * size
+    for amount, cost in costs:
+        if least[amount % size] is None or cost < least[amount % size]:
+            least[amount % size] = cost
+    return tuple(least)
+
+
+def losses_of(coins):
+    fewest, high = lengths_tables(coins, 2 * ALL_FROM)[0], coins[-1]
+    return rest_costs(((at, high * many - at) for at, many in enumerate(fewest) if many is not None), high)
+
+
+def gains_of(coins):
+    most, low = lengths_tables(coins, 2 * ALL_FROM)[1], coins[0]
+    return rest_costs(((at, at - low * many) for at, many in enumerate(most) if many is not None), low)
+
+
+@lru_cache(maxsize=None)
+def moved_table(coins, top):
+    """The fewest coins, handed over or given back, that settle each price up to `top` either way, coin by coin."""
+    known = {0: 0}
+    level = [0]
+    # On the way no more than one coin beyond the ends is needed; a good deal more is looked at.
+    beyond = top + 200
+    while level:
+        found = []
+        for price in level:
+            for coin in coins:
+                for then in (price + coin, price - coin):
+                    if then not in known and abs(then) <= beyond:
+                        known[then] = known[price] + 1
+                        found.append(then)
+        level = found
+    return known
+
+
+def moved_losses_of(coins):
+    top = (coins[-1] - 1) * coins[-1] + coins[-1]
+    high = coins[-1]
+    return rest_costs(((price, high * many - price) for price, many in moved_table(coins, top).items()
+                       if abs(price) <= top), high)

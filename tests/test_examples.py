@@ -17,6 +17,20 @@ raises NoEnd(given=2)
 [((0, 3, 0), (1, 1, 1), (5, 0, 0)), 11, (5, 0, 0), 2, (7, 6), (15, 1)]
 >>> [great_count(Lot((1, 5, 10)), 100), great_count(Lot((2, 3)), 10 ** 30)]
 [121, 166666666666666666666666666667]
+>>> from mintlots.singles import few_sums, is_single, last_single, other_payment, single_sums
+>>> [single_sums(Lot((2, 3))), last_single(few), len(few_sums(few, 2)), is_single(odd, (1, 0, 1)), other_payment(few, (8, 0))]
+[(0, 2, 3, 4, 5, 7), 67, 80, False, (0, 5)]
+>>> from mintlots.swaps import swap_at, swapped, swaps, way
+>>> [swaps(Lot((2, 3))), len(swaps(odd)), swap_at(odd, (1, 1, 1)), swapped(odd, (1, 1, 1), ((1, 0, 1), (0, 2, 0))), way(odd, (5, 0, 0), (0, 3, 0))]
+[(((0, 2), (3, 0)), ((3, 0), (0, 2))), 16, (((0, 1, 1), (4, 0, 0)), ((1, 0, 1), (0, 2, 0))), (0, 3, 0), (((5, 0, 0), (0, 3, 0)),)]
+>>> from mintlots.lengths import gains, lag, least, least_payment, length_step, lengths, losses, most, most_payment, stretch
+>>> [least(odd, 29), most(odd, 29), least_payment(odd, 28), lengths(odd, 29), length_step(odd), stretch(Lot((4, 6, 9))), losses(few), gains(few)]
+[5, 9, (0, 0, 4), (5, 7, 9), 2, (9, 4, 36), (0, 15, 6, 21, 12, 3, 18, 9), (0, 6, 12, 3, 9)]
+>>> [least(odd, 10 ** 30), lag(Lot((1, 7)), Lot((1, 3, 7))), lag(Lot((1, 3)), Lot((1, 4)))]
+[142857142857142857142857142858, (4, 6), None]
+>>> from mintlots.backs import least_deal, least_moved, moved_losses, worst_rests
+>>> [least_moved(few, 1), least_moved(few, -1), least_deal(few, 3), least_moved(few, 10 ** 30), moved_losses(few), worst_rests(Lot((6, 10)))]
+[5, 5, ((0, 1), (1, 0)), 125000000000000000000000000000, (0, 15, 6, 13, 12, 3, 18, 9), (16, (4,))]
 """
 
 
@@ -43,7 +57,7 @@ class ExamplesTest(unittest.TestCase):
             with self.subTest(line=line):
                 self.assertEqual(shown(line[4:], names), after)
             checked += 1
-        self.assertEqual(checked, 5)
+        self.assertEqual(checked, 10)
 
 
 if __name__ == "__main__":

@@ -7,7 +7,7 @@ import re
 import unittest
 
 import mintlots
-from mintlots import lots, payments
+from mintlots import backs, lengths, lots, payments, singles, swaps
 
 FOLDER = pathlib.Path(mintlots.__file__).parent
 FILES = sorted(path for path in FOLDER.rglob("*") if path.is_file() and "__pycache__" not in path.parts)
@@ -32,6 +32,11 @@ INTERFACE = {
           "last_missed(lot) pay_alike(one,other) first_unlike(one,other) is_within(one,other) joined(one,other)",
     payments: "count_payments(lot,small) payments(lot,small) nth_payment(lot,small,index) place_of(lot,payment) "
               "first_payment(lot,amount) last_payment(lot,amount) great_count(lot,amount)",
+    singles: "few_sums(lot,ways) single_sums(lot) last_single(lot) is_single(lot,payment) other_payment(lot,payment)",
+    swaps: "swaps(lot) swap_at(lot,payment) swapped(lot,payment,swap) way(lot,payment,goal)",
+    lengths: "least(lot,amount) most(lot,amount) least_payment(lot,amount) most_payment(lot,amount) "
+             "lengths(lot,small) length_step(lot) stretch(lot) losses(lot) gains(lot) lag(one,other)",
+    backs: "least_moved(lot,price) least_deal(lot,price) moved_losses(lot) worst_rests(lot)",
 }
 
 

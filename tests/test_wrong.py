@@ -1,10 +1,11 @@
-"""[3], [4], [5]: wrong arguments, alone and several at once, for every function of lots and payments."""
+"""[3], [4], [5]: wrong arguments, alone and several at once, for every function of the package."""
 
 import itertools
 import unittest
 
-from mintlots import lots, payments
-from mintlots.errors import (InvalidAmount, InvalidNumber, InvalidPayment, Missed, NoEnd, NoSuchCoin, NotALot, TooMany)
+from mintlots import backs, lengths, lots, payments, singles, swaps
+from mintlots.errors import (InvalidAmount, InvalidDeal, InvalidNumber, InvalidPayment, InvalidPrice, Missed, NoEnd,
+                             NoSuchCoin, NotALot, TooMany)
 from mintlots.lots import Lot
 
 
@@ -49,6 +50,11 @@ NOT_SMALL = NOT_AN_AMOUNT + (401, 402, 10 ** 30)
 NOT_AN_INDEX = OTHERS + (-1, 3, 10 ** 99, (), (0,), Lot((5, 8)))
 NOT_A_COIN = OTHERS + (0, -3, 1, 4, 8, 60, 10 ** 99, (), (3,), Lot((3,)))
 NOT_A_PAYMENT = tuple(value for value in OTHERS if not isinstance(value, tuple)) + (0, 5, 10 ** 99, Lot((5, 8)))
+NOT_A_NUMBER = OTHERS + (-1, -10 ** 99, 10 ** 30 + 1, 10 ** 99, (), (1,), Lot((5, 8)))
+NOT_WAYS = NOT_A_NUMBER + (0, 5)
+NOT_A_PRICE = OTHERS + (-10 ** 30 - 1, 10 ** 30 + 1, 10 ** 99, -10 ** 99, (), (5,), Lot((5, 8)))
+NOT_A_SWAP = OTHERS + (0, 5, 10 ** 99, (), (5,), (5, 8), Lot((5, 8)), ((5, 0, 0),), ((5, 0, 0), None), (Odd(), Odd()),
+                       ((5, 0, 0), (0, 3, Odd())), [(5, 0, 0), (0, 3, 0)], ((5, 0, 0), (0, 3, 0), (0, 0, 0)))
 
 ODD = Lot((3, 5, 7))
 
@@ -62,6 +68,10 @@ KINDS = {
     "index": (2, NOT_AN_INDEX, InvalidNumber, "given"),
     "coin": (3, NOT_A_COIN, NoSuchCoin, "given"),
     "payment": ((5, 0, 0), NOT_A_PAYMENT, InvalidPayment, "none"),
+    "goal": ((0, 3, 0), NOT_A_PAYMENT, InvalidPayment, "none"),
+    "swap": (((5, 0, 0), (0, 3, 0)), NOT_A_SWAP, InvalidDeal, "none"),
+    "ways": (2, NOT_WAYS, InvalidNumber, "given"),
+    "price": (-4, NOT_A_PRICE, InvalidPrice, "given"),
 }
 
 FUNCTIONS = (
@@ -72,6 +82,15 @@ FUNCTIONS = (
     (payments.nth_payment, "lot small index"), (payments.place_of, "lot payment"),
     (payments.first_payment, "lot amount"), (payments.last_payment, "lot amount"),
     (payments.great_count, "lot amount"),
+    (singles.few_sums, "lot ways"), (singles.single_sums, "lot"), (singles.last_single, "lot"),
+    (singles.is_single, "lot payment"), (singles.other_payment, "lot payment"),
+    (swaps.swaps, "lot"), (swaps.swap_at, "lot payment"), (swaps.swapped, "lot payment swap"),
+    (swaps.way, "lot payment goal"),
+    (lengths.least, "lot amount"), (lengths.most, "lot amount"), (lengths.least_payment, "lot amount"),
+    (lengths.most_payment, "lot amount"), (lengths.lengths, "lot small"), (lengths.length_step, "lot"),
+    (lengths.stretch, "lot"), (lengths.losses, "lot"), (lengths.gains, "lot"), (lengths.lag, "one other"),
+    (backs.least_moved, "lot price"), (backs.least_deal, "lot price"), (backs.moved_losses, "lot"),
+    (backs.worst_rests, "lot"),
 )
 
 
@@ -107,16 +126,18 @@ class WrongTest(unittest.TestCase):
             names = told.split()
             for number in range(2, len(names) + 1):
                 for bad in itertools.combinations(names, number):
-                    for value in NOT_A_PAYMENT:
-                        if type(value) is int:
-                            continue
-                        values = {each: value if each in bad else KINDS[each][0] for each in names}
-                        _, _, error, kind = KINDS[bad[0]]
-                        with self.subTest(function=function.__name__, bad=bad, kind=type(value)):
-                            if isinstance(value, Lot):
-                                values[bad[0]] = 1000 if bad[0] == "small" else None
-                            self.check(lambda: function(**values), error, kind, values[bad[0]])
-                            self.check(lambda: function(*values.values()), error, kind, values[bad[0]])
+                    self.check_several(function, names, bad)
+
+    def check_several(self, function, names, bad):
+        _, wrong, error, kind = KINDS[bad[0]]
+        for at in range(max(len(KINDS[name][1]) for name in bad)):
+            values = {name: KINDS[name][0] for name in names}
+            for shift, name in enumerate(bad):
+                others = KINDS[name][1]
+                values[name] = others[(at + 5 * shift) % len(others)]
+            with self.subTest(function=function.__name__, bad=bad, at=at):
+                self.check(lambda: function(**values), error, kind, values[bad[0]])
+                self.check(lambda: function(*values.values()), error, kind, values[bad[0]])
 
 
 class LastTest(unittest.TestCase):
@@ -161,6 +182,45 @@ class LastTest(unittest.TestCase):
         with self.assertRaises(TooMany):
             payments.great_count(Lot((59, 60)), 1)
 
+    def test_few_sums(self):
+        with self.assertRaises(InvalidNumber):
+            singles.few_sums(Lot((5,)), 0)
+        with self.assertRaises(NoEnd):
+            singles.few_sums(Lot((5,)), 1)
+
+    def test_is_single(self):
+        for call in (singles.is_single, singles.other_payment):
+            with self.assertRaises(InvalidPayment):
+                call(ODD, (4000, 4000, -1))
+            with self.assertRaises(TooMany):
+                call(ODD, (4000, 4000, 1))
+
+    def test_swaps(self):
+        great = Lot((1, 2, 3, 4, 60))
+        for call in (lambda: swaps.swap_at(great, (1, 1, 1, 1)), lambda: swaps.way(great, (0, 0, 0, 0, 1), (1, 0, 0, 0, 0)),
+                     lambda: swaps.swapped(great, (0, 0, 0, 0), None)):
+            with self.assertRaises(InvalidPayment):
+                call()
+        with self.assertRaises(InvalidDeal) as caught:
+            swaps.swapped(great, (0, 0, 0, 0, 0), ((1, 0, 0, 0, 0), (1, 0, 0, 0, 0)))
+        self.assertEqual(caught.exception.index, 0)
+        with self.assertRaises(InvalidDeal) as caught:
+            swaps.swapped(great, (0, 0, 0, 0, 0), ((2, 0, 0, 0, 0), (0, 1, 0, 0, 0)))
+        self.assertEqual(caught.exception.index, 1)
+        with self.assertRaises(TooMany) as caught:
+            swaps.swapped(great, (2, 0, 0, 0, 0), ((2, 0, 0, 0, 0), (0, 1, 0, 0, 0)))
+        self.assertEqual(caught.exception.given, 5)
+
+    def test_least_and_most_payment(self):
+        for call in (lengths.least_payment, lengths.most_payment):
+            with self.assertRaises(InvalidAmount):
+                call(Lot((60,)), 10 ** 30 + 1)
+            with self.assertRaises(NotALot):
+                call("60", 59)
+            with self.assertRaises(Missed) as caught:
+                call(Lot((60,)), 10 ** 30)
+            self.assertEqual(caught.exception.given, 10 ** 30)
+
     def test_no_end(self):
         for call in (lots.missed, lots.count_missed, lots.last_missed):
             with self.assertRaises(NotALot):
@@ -182,10 +242,16 @@ class EdgesTest(unittest.TestCase):
             payments.first_payment(ODD, amount)
             payments.last_payment(ODD, amount)
             payments.great_count(ODD, amount)
+            for call in (lengths.least, lengths.most, lengths.least_payment, lengths.most_payment, backs.least_deal):
+                call(ODD, amount)
+            self.assertEqual(backs.least_moved(ODD, -amount), backs.least_moved(ODD, amount))
+        for ways in (1, 4):
+            singles.few_sums(ODD, ways)
         for small in (0, 400):
             payments.count_payments(ODD, small)
             payments.nth_payment(ODD, small, 0)
             self.assertEqual(len(payments.payments(Lot((59, 60)), small)), 1 if small == 0 else 0)
+            self.assertEqual(lengths.lengths(Lot((59, 60)), small), (0,) if small == 0 else ())
 
 
 if __name__ == "__main__":
