@@ -1,7 +1,7 @@
 """Checks of arguments that several modules share."""
 
-from mintlots.errors import InvalidAmount, InvalidNumber, InvalidPayment, InvalidPrice
-from mintlots.limits import MOST_AMOUNT, MOST_SMALL
+from mintlots.errors import InvalidAmount, InvalidNumber, InvalidPayment, InvalidPrice, InvalidPurse
+from mintlots.limits import MOST_AMOUNT, MOST_PIECE, MOST_PIECES, MOST_SMALL
 
 # The document names this limit at each place where it holds, but not among the limits.
 MOST_STEP = 4000
@@ -39,6 +39,29 @@ def check_number(number, low, high):
     """InvalidNumber for what is no integer from `low` to `high`."""
     if not is_between(number, low, high):
         raise InvalidNumber(number)
+
+
+def check_lost(lost):
+    """InvalidNumber for what is no number of pieces that a purse can lose and have one left."""
+    check_number(lost, 0, MOST_PIECES - 1)
+
+
+def is_purse(value):
+    """Whether it is a purse: a tuple of a few pieces, none less than the one ahead."""
+    if not isinstance(value, tuple) or len(value) > MOST_PIECES:
+        return False
+    ahead = 1
+    for piece in value:
+        if not is_between(piece, ahead, MOST_PIECE):
+            return False
+        ahead = piece
+    return True
+
+
+def check_purse(purse):
+    """InvalidPurse for what is no purse."""
+    if not is_purse(purse):
+        raise InvalidPurse(purse)
 
 
 def count_told(payment, kinds):

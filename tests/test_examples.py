@@ -31,6 +31,22 @@ raises NoEnd(given=2)
 >>> from mintlots.backs import least_deal, least_moved, moved_losses, worst_rests
 >>> [least_moved(few, 1), least_moved(few, -1), least_deal(few, 3), least_moved(few, 10 ** 30), moved_losses(few), worst_rests(Lot((6, 10)))]
 [5, 5, ((0, 1), (1, 0)), 125000000000000000000000000000, (0, 15, 6, 13, 12, 3, 18, 9), (16, (4,))]
+>>> from mintlots.purses import as_text, best_purse, best_whole, count_full, fewest_pieces, from_text, full_purses, gap, held, is_full, may_come, ways_held
+>>> [as_text((1, 2, 5)), from_text("-"), held((1, 2, 5)), ways_held((1, 1, 2, 2), 3), is_full((1, 2, 4), 0), is_full((1, 1, 2, 3), 1), gap((1, 2, 5), 0)]
+['1+2+5', (), (0, 1, 2, 3, 5, 6, 7, 8), 1, True, True, ((), 4)]
+>>> [best_whole(5, 1), best_purse(4, 0), fewest_pieces(100, 0), fewest_pieces(100, 1), count_full(9, 4, 0), full_purses(7, 4, 1), may_come((1, 1, 2, 3), 1)]
+[12, (1, 2, 4, 8), 7, 10, 4, ((1, 1, 2, 3),), 5]
+>>> from mintlots.pots import behind, deal_for, pot, prices, reach, settles_all, ways_to_settle
+>>> [pot((5, 10), (1, 2)), prices((5,), (1, 1)), ways_to_settle((5, 10), (1, 2, 5), 7), settles_all((4, 8), (1, 2), 0), reach((4, 8), (1, 2)), reach((5, 10), (1, 2))]
+[(1, 2, 5, 10), (-2, -1, 0, 3, 4, 5), 2, True, 12, 0]
+>>> [deal_for((4, 8), (1, 2), 5), behind((4, 8), (1, 2), ((8,), (1, 2)))]
+[((8,), (1, 2)), ((1, 2, 4), (8,))]
+>>> from mintlots.queues import orders, passes, plan, stuck, tills
+>>> [passes((), (((5,), 5), ((10,), 5))), stuck((), (((10,), 5), ((5,), 5))), plan((), (((5,), 5), ((10,), 5))), tills((1, 2), (((5,), 3), ((1, 3), 3))), orders((), (((5,), 5), ((10,), 5), ((5,), 5)))]
+[True, 0, (((5,), ()), ((10,), (5,))), ((1, 3, 5),), ((0, 1, 2), (0, 2, 1), (2, 0, 1), (2, 1, 0))]
+>>> from mintlots.partings import count_even, even_partings, full_parting, least_difference, most_hands
+>>> [even_partings((1, 2, 3, 4), 2), count_even((1, 1, 2, 2, 3, 3), 3), least_difference((2, 5, 9)), full_parting((1, 1, 2, 3), 2), most_hands((1, 1, 1, 2, 3)), most_hands((2, 2))]
+[(((1, 4), (2, 3)),), 1, 2, ((1,), (1, 2, 3)), 3, 0]
 """
 
 
@@ -57,7 +73,7 @@ class ExamplesTest(unittest.TestCase):
             with self.subTest(line=line):
                 self.assertEqual(shown(line[4:], names), after)
             checked += 1
-        self.assertEqual(checked, 10)
+        self.assertEqual(checked, 16)
 
 
 if __name__ == "__main__":

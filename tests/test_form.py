@@ -7,7 +7,7 @@ import re
 import unittest
 
 import mintlots
-from mintlots import backs, lengths, lots, payments, singles, swaps
+from mintlots import backs, lengths, lots, partings, payments, pots, purses, queues, singles, swaps
 
 FOLDER = pathlib.Path(mintlots.__file__).parent
 FILES = sorted(path for path in FOLDER.rglob("*") if path.is_file() and "__pycache__" not in path.parts)
@@ -23,8 +23,11 @@ LIBRARY = {
 }
 METHODS = set("""append clear copy count endswith extend find get index insert isalnum isalpha isdigit islower isspace
 isupper items join keys ljust lower lstrip partition pop remove replace reverse rfind rjust rpartition rsplit rstrip
-setdefault split splitlines startswith strip update upper values zfill bit_length add discard""".split())
+setdefault split splitlines startswith strip update upper values zfill bit_length add discard isdecimal""".split())
 TAKE_LISTS = set("any all min max sum sorted".split())
+BARRED = set("""register mro elements open input law version_info attrgetter breakpoint builtins compile copyright credits
+delattr dir eval exec exit gc getattr globals hasattr help id importlib license locals methodcaller os quit setattr
+super type vars sys typing enum sort""".split())
 DECORATORS = set("property classmethod staticmethod".split())
 
 INTERFACE = {
@@ -37,6 +40,14 @@ INTERFACE = {
     lengths: "least(lot,amount) most(lot,amount) least_payment(lot,amount) most_payment(lot,amount) "
              "lengths(lot,small) length_step(lot) stretch(lot) losses(lot) gains(lot) lag(one,other)",
     backs: "least_moved(lot,price) least_deal(lot,price) moved_losses(lot) worst_rests(lot)",
+    purses: "as_text(purse) from_text(text) held(purse) ways_held(purse,amount) is_full(purse,lost) gap(purse,lost) "
+            "best_whole(pieces,lost) best_purse(pieces,lost) fewest_pieces(whole,lost) count_full(whole,pieces,lost) "
+            "full_purses(whole,pieces,lost) may_come(purse,lost)",
+    pots: "pot(buyer,seller) prices(buyer,seller) ways_to_settle(buyer,seller,price) settles_all(buyer,seller,lost) "
+          "reach(buyer,seller) deal_for(buyer,seller,price) behind(buyer,seller,deal)",
+    queues: "passes(till,queue) plan(till,queue) tills(till,queue) orders(till,queue) stuck(till,queue)",
+    partings: "even_partings(purse,hands) count_even(purse,hands) least_difference(purse) full_parting(purse,hands) "
+              "most_hands(purse)",
 }
 
 
@@ -114,6 +125,21 @@ class FormTest(unittest.TestCase):
             self.assertEqual(bound & known, set(), path)
             read = {node.id for node in ast.walk(tree) if isinstance(node, ast.Name) and isinstance(node.ctx, ast.Load)}
             self.assertLessEqual(read - bound, BUILTINS, path)
+
+    def test_no_name_hides_an_import_or_a_class(self):
+        for path in FILES:
+            tree = tree_of(path)
+            told = {alias.name for node in ast.walk(tree) if isinstance(node, ast.ImportFrom) for alias in node.names}
+            told |= {node.name for node in ast.walk(tree) if isinstance(node, ast.ClassDef)}
+            local = {node.arg for node in ast.walk(tree) if isinstance(node, ast.arg)}
+            local |= {node.id for node in ast.walk(tree)
+                      if isinstance(node, ast.Name) and not isinstance(node.ctx, ast.Load)}
+            self.assertEqual(told & local, set(), path)
+
+    def test_barred_words(self):
+        for path in FILES:
+            for word in bound_names(tree_of(path)):
+                self.assertNotIn(word, BARRED, path)
 
     def test_methods(self):
         own = {node.name for _, node in self.each_node() if isinstance(node, ast.FunctionDef)}

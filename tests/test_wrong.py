@@ -3,9 +3,9 @@
 import itertools
 import unittest
 
-from mintlots import backs, lengths, lots, payments, singles, swaps
-from mintlots.errors import (InvalidAmount, InvalidDeal, InvalidNumber, InvalidPayment, InvalidPrice, Missed, NoEnd,
-                             NoSuchCoin, NotALot, TooMany)
+from mintlots import backs, lengths, lots, partings, payments, pots, purses, queues, singles, swaps
+from mintlots.errors import (InvalidAmount, InvalidDeal, InvalidNumber, InvalidPayment, InvalidPrice, InvalidPurse,
+                             InvalidQueue, InvalidText, Missed, NoEnd, NoSuchCoin, NotALot, NotFull, NotSettled, TooMany)
 from mintlots.lots import Lot
 
 
@@ -55,6 +55,17 @@ NOT_WAYS = NOT_A_NUMBER + (0, 5)
 NOT_A_PRICE = OTHERS + (-10 ** 30 - 1, 10 ** 30 + 1, 10 ** 99, -10 ** 99, (), (5,), Lot((5, 8)))
 NOT_A_SWAP = OTHERS + (0, 5, 10 ** 99, (), (5,), (5, 8), Lot((5, 8)), ((5, 0, 0),), ((5, 0, 0), None), (Odd(), Odd()),
                        ((5, 0, 0), (0, 3, Odd())), [(5, 0, 0), (0, 3, 0)], ((5, 0, 0), (0, 3, 0), (0, 0, 0)))
+NOT_A_PURSE = OTHERS + (0, 5, 10 ** 99, Lot((5, 8)), (0,), (-1,), (1001,), (2, 1), (1,) * 13, (1,) * 4000, (True,),
+                        (1, True), (None,), ("1",), ([1],), ((1,),), (1, Odd()), (10 ** 99,), [1, 2])
+NOT_A_TEXT = tuple(value for value in OTHERS if not isinstance(value, str)) + (
+    0, 5, (), (5,), Lot((5, 8)), "", "0", "5 8", "+", "1+", "+1", "2+1", "01", "1001", "1 + 2", " 1", "1\n", "--", "x", "1" * 4000)
+NOT_LOST = NOT_A_NUMBER + (12, 13)
+NOT_PIECES = NOT_A_NUMBER + (0, 13)
+NOT_A_WHOLE = NOT_A_NUMBER + (0,)
+NOT_HANDS = NOT_A_NUMBER + (0, 7)
+NO_DEAL = OTHERS + (0, 5, 10 ** 99, (), (5,), (5, 8), Lot((5, 8)), ((8,),), ((8,), None), (Odd(), Odd()), ((8,), (Odd(),)),
+                    [(8,), (1,)], ((8,), (1,), ()), ((8, 4), ()), ((8,), (1, True)), ((1,) * 13, ()))
+NO_QUEUE = tuple(value for value in OTHERS if not isinstance(value, tuple)) + (0, 5, 10 ** 99, Lot((5, 8)), [((5,), 3)])
 
 ODD = Lot((3, 5, 7))
 
@@ -71,7 +82,18 @@ KINDS = {
     "goal": ((0, 3, 0), NOT_A_PAYMENT, InvalidPayment, "none"),
     "swap": (((5, 0, 0), (0, 3, 0)), NOT_A_SWAP, InvalidDeal, "none"),
     "ways": (2, NOT_WAYS, InvalidNumber, "given"),
-    "price": (-4, NOT_A_PRICE, InvalidPrice, "given"),
+    "price": (5, NOT_A_PRICE, InvalidPrice, "given"),
+    "purse": ((1, 1, 2, 3), NOT_A_PURSE, InvalidPurse, "given"),
+    "buyer": ((4, 8), NOT_A_PURSE, InvalidPurse, "given"),
+    "seller": ((1, 2), NOT_A_PURSE, InvalidPurse, "given"),
+    "till": ((1, 2), NOT_A_PURSE, InvalidPurse, "given"),
+    "text": ("1+2", NOT_A_TEXT, InvalidText, "given"),
+    "lost": (1, NOT_LOST, InvalidNumber, "given"),
+    "pieces": (4, NOT_PIECES, InvalidNumber, "given"),
+    "whole": (7, NOT_A_WHOLE, InvalidNumber, "given"),
+    "hands": (2, NOT_HANDS, InvalidNumber, "given"),
+    "deal": (((8,), (1, 2)), NO_DEAL, InvalidDeal, "none"),
+    "queue": ((((5,), 3), ((1, 3), 3)), NO_QUEUE, InvalidQueue, "none"),
 }
 
 FUNCTIONS = (
@@ -91,6 +113,18 @@ FUNCTIONS = (
     (lengths.stretch, "lot"), (lengths.losses, "lot"), (lengths.gains, "lot"), (lengths.lag, "one other"),
     (backs.least_moved, "lot price"), (backs.least_deal, "lot price"), (backs.moved_losses, "lot"),
     (backs.worst_rests, "lot"),
+    (purses.as_text, "purse"), (purses.from_text, "text"), (purses.held, "purse"),
+    (purses.ways_held, "purse amount"), (purses.is_full, "purse lost"), (purses.gap, "purse lost"),
+    (purses.best_whole, "pieces lost"), (purses.best_purse, "pieces lost"), (purses.fewest_pieces, "whole lost"),
+    (purses.count_full, "whole pieces lost"), (purses.full_purses, "whole pieces lost"),
+    (purses.may_come, "purse lost"),
+    (pots.pot, "buyer seller"), (pots.prices, "buyer seller"), (pots.ways_to_settle, "buyer seller price"),
+    (pots.settles_all, "buyer seller lost"), (pots.reach, "buyer seller"), (pots.deal_for, "buyer seller price"),
+    (pots.behind, "buyer seller deal"),
+    (queues.passes, "till queue"), (queues.plan, "till queue"), (queues.tills, "till queue"),
+    (queues.orders, "till queue"), (queues.stuck, "till queue"),
+    (partings.even_partings, "purse hands"), (partings.count_even, "purse hands"),
+    (partings.least_difference, "purse"), (partings.full_parting, "purse hands"), (partings.most_hands, "purse"),
 )
 
 
@@ -220,6 +254,46 @@ class LastTest(unittest.TestCase):
             with self.assertRaises(Missed) as caught:
                 call(Lot((60,)), 10 ** 30)
             self.assertEqual(caught.exception.given, 10 ** 30)
+
+    def test_purses(self):
+        for call in (purses.gap, purses.may_come):
+            with self.assertRaises(InvalidNumber):
+                call((), 12)
+            with self.assertRaises(NotFull) as caught:
+                call((), 11)
+            self.assertEqual(caught.exception.given, ())
+        with self.assertRaises(InvalidNumber):
+            purses.full_purses(200, 12, 12)
+        with self.assertRaises(TooMany):
+            purses.full_purses(200, 12, 0)
+        with self.assertRaises(NotFull):
+            purses.may_come((2,) * 12, 0)
+
+    def test_pots(self):
+        many = ((2,) * 6, (2,) * 7)
+        with self.assertRaises(InvalidPrice):
+            pots.deal_for(*many, 10 ** 30 + 1)
+        with self.assertRaises(TooMany) as caught:
+            pots.deal_for(*many, 1)
+        self.assertEqual(caught.exception.given, 13)
+        with self.assertRaises(NotSettled) as caught:
+            pots.deal_for(many[0], many[0], 1)
+        self.assertEqual(caught.exception.given, 1)
+        with self.assertRaises(InvalidDeal) as caught:
+            pots.behind(*many, ((), (1,)))
+        self.assertEqual(caught.exception.index, 1)
+        with self.assertRaises(TooMany):
+            pots.behind(*many, ((), (2,)))
+
+    def test_queues_and_partings(self):
+        with self.assertRaises(InvalidQueue) as caught:
+            queues.plan((1,) * 12, (((1,), 1), ((1,), True)))
+        self.assertEqual(caught.exception.index, 1)
+        with self.assertRaises(InvalidNumber):
+            partings.even_partings((1,) * 12, 0)
+        with self.assertRaises(TooMany) as caught:
+            partings.even_partings((1,) * 12, 1)
+        self.assertEqual(caught.exception.given, 12)
 
     def test_no_end(self):
         for call in (lots.missed, lots.count_missed, lots.last_missed):
