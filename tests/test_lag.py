@@ -15,6 +15,7 @@ def some_pairs():
     source = random.Random(15)
     pairs = [((1, 7), (1, 3, 7)), ((1, 3), (1, 4)), ((59, 60), (1, 59)), ((58, 59), (1, 58)), ((60,), (59,)),
              ((7,), (7,)), ((7,), (5,)), ((5,), (7,)), ((6, 10), (4, 6, 9)), ((1, 60), (1, 59, 60)), ((1, 60), (30, 59)),
+             ((4, 9), (1, 6)), ((8, 11), (1, 4, 6, 11)), ((1, 12), (1, 6, 7, 12)), ((7, 12), (3, 12)),
              ((59, 60), (57, 58)), ((2, 60), (3, 59)), ((1,), (1,)), ((2,), (1,)), ((4, 6), (3, 5)), ((20, 30), (15, 30))]
     pairs += [(coins, coins) for coins in TRIED_COINS[::9]]
     while len(pairs) < 140:
@@ -60,6 +61,8 @@ class LagTest(unittest.TestCase):
     def test_known_lags(self):
         self.assertEqual(lag(Lot((1, 7)), Lot((1, 3, 7))), (4, 6))
         self.assertEqual(lag(Lot((1, 60)), Lot((59, 60))), (58, 59))
+        # Behind the bound of the first lot and the multiple of 12.
+        self.assertEqual(lag(Lot((1, 12)), Lot((1, 6, 7, 12))), (8, 35))
 
 
 if __name__ == "__main__":

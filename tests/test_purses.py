@@ -4,6 +4,7 @@ import functools
 import random
 import re
 import unittest
+from unittest.mock import patch
 
 from mintlots.errors import InvalidNumber, InvalidPurse, InvalidText, NotFull, TooMany
 from mintlots.purses import (as_text, best_purse, best_whole, count_full, fewest_pieces, from_text, full_purses, gap,
@@ -366,6 +367,12 @@ class CountFullTest(unittest.TestCase):
             with self.assertRaises(TooMany) as caught:
                 full_purses(whole, pieces, lost)
             self.assertEqual(caught.exception.given, number)
+        # There are none with just 400 or 401; so the limit is taken lower here.
+        with patch("mintlots.purses.MOST_LISTED", 398):
+            self.assertEqual(len(full_purses(31, 12, 1)), 398)
+        with patch("mintlots.purses.MOST_LISTED", 397), self.assertRaises(TooMany) as caught:
+            full_purses(31, 12, 1)
+        self.assertEqual(caught.exception.given, 398)
 
     def test_known_ones(self):
         self.assertEqual(count_full(9, 4, 0), 4)
