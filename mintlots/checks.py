@@ -17,21 +17,49 @@ def is_between(value, low, high):
     return is_integer(value) and low <= value <= high
 
 
+def is_number(value):
+    """Whether it is an integer from 0 on."""
+    return is_integer(value) and value >= 0
+
+
+def count_ascending(values, low, high, most):
+    """How many of them, from the first one on, can stand in an ascending tuple of at most so many integers.
+
+    These are from `low` to `high`. What is told is the index of the first wrong one, if there is one.
+    """
+    ahead = low - 1
+    for at, value in enumerate(values):
+        if at == most or not is_between(value, ahead + 1, high):
+            return at
+        ahead = value
+    return len(values)
+
+
 def check_amount(amount):
     """InvalidAmount for what is no sum that the package takes."""
     if not is_between(amount, 0, MOST_AMOUNT):
         raise InvalidAmount(amount)
 
 
+def is_small(value):
+    """Whether it is a small sum."""
+    return is_between(value, 0, MOST_SMALL)
+
+
 def check_small(small):
     """InvalidAmount for what is no small sum."""
-    if not is_between(small, 0, MOST_SMALL):
+    if not is_small(small):
         raise InvalidAmount(small)
+
+
+def is_price(value):
+    """Whether it is a price that the package takes."""
+    return is_between(value, -MOST_AMOUNT, MOST_AMOUNT)
 
 
 def check_price(price):
     """InvalidPrice for what is no price that the package takes."""
-    if not is_between(price, -MOST_AMOUNT, MOST_AMOUNT):
+    if not is_price(price):
         raise InvalidPrice(price)
 
 
@@ -67,7 +95,7 @@ def check_purse(purse):
 def count_told(payment, kinds):
     """How many elements of a tuple, from the first one on, can stand in a payment by so many kinds of coins."""
     for at, many in enumerate(payment):
-        if at == kinds or not is_integer(many) or many < 0:
+        if at == kinds or not is_number(many):
             return at
     return len(payment)
 

@@ -2,7 +2,7 @@
 
 from math import gcd
 
-from mintlots.checks import check_amount, is_between, is_integer
+from mintlots.checks import check_amount, count_ascending, is_integer
 from mintlots.errors import InvalidCoins, InvalidText, NoEnd, NoSuchCoin, NotALot, TooMany
 from mintlots.limits import MOST_COIN, MOST_COINS
 
@@ -42,12 +42,7 @@ class Lot:
 
 def count_right(coins):
     """How many of them, from the first one on, can stand in a lot; this is the index of the first wrong one."""
-    ahead = 0
-    for at, coin in enumerate(coins):
-        if at == MOST_COINS or not is_between(coin, ahead + 1, MOST_COIN):
-            return at
-        ahead = coin
-    return len(coins)
+    return count_ascending(coins, 1, MOST_COIN, MOST_COINS)
 
 
 def coins_in(text):
@@ -61,6 +56,12 @@ def check_lot(lot):
     """NotALot for what is no lot."""
     if not isinstance(lot, Lot):
         raise NotALot(lot)
+
+
+def check_coin_of(lot, coin):
+    """NoSuchCoin for what is no coin of the lot."""
+    if not is_integer(coin) or coin not in lot.coins:
+        raise NoSuchCoin(coin)
 
 
 def divisor(lot):
@@ -134,8 +135,7 @@ def is_paid(lot, amount):
 def least_sums(lot, coin):
     """The tuple of the least sums of the rests 0, 1, .. by a coin of the lot, None where there is none."""
     check_lot(lot)
-    if not is_integer(coin) or coin not in lot.coins:
-        raise NoSuchCoin(coin)
+    check_coin_of(lot, coin)
     return least_by_rest(lot.coins, coin)
 
 

@@ -47,6 +47,24 @@ raises NoEnd(given=2)
 >>> from mintlots.partings import count_even, even_partings, full_parting, least_difference, most_hands
 >>> [even_partings((1, 2, 3, 4), 2), count_even((1, 1, 2, 2, 3, 3), 3), least_difference((2, 5, 9)), full_parting((1, 1, 2, 3), 2), most_hands((1, 1, 1, 2, 3)), most_hands((2, 2))]
 [(((1, 4), (2, 3)),), 1, 2, ((1,), (1, 2, 3)), 3, 0]
+>>> from mintlots.naming import end, game, good_names, is_quiet, is_won, named
+>>> [is_won(Lot((2, 3))), is_won(Lot((4, 5))), good_names(Lot((4, 5))), is_quiet(Lot((4, 5))), is_quiet(Lot((4, 5, 7))), str(named(Lot((4, 6, 9)), (5, 7)))]
+[False, True, (11,), True, True, '4 5 6 7']
+>>> [end(Lot((2, 3))), end(Lot((3, 4, 5))), game(Lot((3, 4, 5))), end(Lot((1, 5))), good_names(Lot((4, 6, 9)))]
+[1, 2, (2, 1), 0, (11,)]
+>>> from mintlots.views import View, can_be, fitting, is_sound, next_sum, sound_lots, sure
+>>> seen = View((("paid", 7), ("missed", 11), ("ways", 14, 2)))
+>>> [len(sound_lots()), is_sound(Lot((3, 5, 7))), len(fitting(seen)), can_be(seen), sure(seen, 4), sure(seen, 14), next_sum(View(()))]
+[131, True, 6, True, 'missed', 'paid', 6]
+>>> from mintlots.calls import called_in, calling_orders, gained_sums, kept_lots, lost_sums, strikes, struck
+>>> [str(called_in(odd, 5)), lost_sums(odd, 7), gained_sums(few, 7), kept_lots(Lot((1, 2, 3, 6)), (5, 6)), calling_orders(Lot((1, 2, 3, 6)), (5, 6)), strikes(Lot((5,)), 4, 6)]
+['3 7', (7,), (7, 12, 14, 17, 19, 22, 27), ((1,), (2, 3)), 8, (4, 6, 7)]
+>>> from mintlots.counters import Counter
+>>> counter = Counter((4, 8), (1, 2))
+>>> counter.pay(5)
+>>> counter.put(3)
+>>> [counter.buyer, counter.seller, counter.changes, counter.undo(), counter.buyer, counter.undo(), counter.seller]
+[(1, 2, 3, 4), (8,), 2, None, (1, 2, 4), None, (1, 2)]
 """
 
 
@@ -73,7 +91,7 @@ class ExamplesTest(unittest.TestCase):
             with self.subTest(line=line):
                 self.assertEqual(shown(line[4:], names), after)
             checked += 1
-        self.assertEqual(checked, 16)
+        self.assertEqual(checked, 21)
 
 
 if __name__ == "__main__":

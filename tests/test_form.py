@@ -4,10 +4,12 @@ import ast
 import inspect
 import pathlib
 import re
+import sys
 import unittest
 
 import mintlots
-from mintlots import backs, lengths, lots, partings, payments, pots, purses, queues, singles, swaps
+from mintlots import (backs, calls, counters, lengths, lots, naming, partings, payments, pots, purses, queues, singles,
+                      swaps, views)
 
 FOLDER = pathlib.Path(mintlots.__file__).parent
 FILES = sorted(path for path in FOLDER.rglob("*") if path.is_file() and "__pycache__" not in path.parts)
@@ -48,6 +50,18 @@ INTERFACE = {
     queues: "passes(till,queue) plan(till,queue) tills(till,queue) orders(till,queue) stuck(till,queue)",
     partings: "even_partings(purse,hands) count_even(purse,hands) least_difference(purse) full_parting(purse,hands) "
               "most_hands(purse)",
+    naming: "is_won(stand) good_names(stand) end(stand) is_quiet(stand) named(stand,names) game(stand)",
+    views: "sound_lots() is_sound(lot) fitting(view) can_be(view) sure(view,small) next_sum(view)",
+    calls: "called_in(lot,coin) lost_sums(lot,coin) struck(lot,coin) gained_sums(lot,coin) kept_lots(lot,amounts) "
+           "calling_orders(lot,amounts) strikes(lot,least,start)",
+}
+
+# For each class its parameters, its methods and its properties.
+CLASSES = {
+    lots.Lot: ("coins", "read(text)", "coins"),
+    views.View: ("tellings", "more(telling)", "tellings"),
+    counters.Counter: ("buyer,seller", "settle(deal) pay(price) swap() put(piece) lose(piece) undo() trial() tried(action)",
+                       "buyer seller changes"),
 }
 
 
@@ -175,26 +189,41 @@ class FormTest(unittest.TestCase):
                 self.assertIsInstance(node, (ast.ImportFrom, ast.FunctionDef, ast.ClassDef, ast.Assign), path)
 
 
+def names_and_parameters(told):
+    """Each name in a text, with the list of its parameters."""
+    pairs = [text[:-1].split("(") for text in told.split()]
+    return [(name, rest.split(",") if rest else []) for name, rest in pairs]
+
+
 class InterfaceTest(unittest.TestCase):
+    def check_parameters(self, function, known):
+        parameters = inspect.signature(function).parameters.values()
+        self.assertEqual([one.name for one in parameters], known)
+        self.assertLessEqual({one.kind for one in parameters}, {inspect.Parameter.POSITIONAL_OR_KEYWORD})
+
     def test_functions_and_their_parameters(self):
         for module, told in INTERFACE.items():
-            for text in told.split():
-                name, rest = text[:-1].split("(")
+            for name, known in names_and_parameters(told):
                 function = vars(module)[name]
                 with self.subTest(name=name):
                     self.assertTrue(inspect.isfunction(function))
                     self.assertEqual(function.__module__, module.__name__)
-                    parameters = inspect.signature(function).parameters.values()
-                    self.assertEqual([one.name for one in parameters], rest.split(","))
-                    self.assertEqual({one.kind for one in parameters}, {inspect.Parameter.POSITIONAL_OR_KEYWORD})
+                    self.check_parameters(function, known)
 
-    def test_the_class(self):
-        own = vars(lots.Lot)
-        self.assertEqual(lots.Lot.__module__, "mintlots.lots")
-        self.assertIsInstance(own["read"], classmethod)
-        self.assertIsInstance(own["coins"], property)
-        self.assertEqual(list(inspect.signature(lots.Lot).parameters), ["coins"])
-        self.assertEqual(list(inspect.signature(lots.Lot.read).parameters), ["text"])
+    def test_classes_with_their_own_methods(self):
+        for one, (told, methods, properties) in CLASSES.items():
+            own = vars(one)
+            with self.subTest(one=one):
+                self.assertEqual(vars(sys.modules[one.__module__])[one.__name__], one)
+                self.check_parameters(one, told.split(",") if told else [])
+                for name, known in names_and_parameters(methods):
+                    kind = "classmethod" if name == "read" else "function"
+                    self.assertEqual(type(own[name]).__name__, kind)
+                    self.check_parameters(own[name].__func__ if kind == "classmethod" else own[name],
+                                          ["cls" if kind == "classmethod" else "self"] + known)
+                for name in properties.split():
+                    self.assertIsInstance(own[name], property)
+                    self.assertIsNone(own[name].fset)
 
 
 if __name__ == "__main__":

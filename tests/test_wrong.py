@@ -3,10 +3,14 @@
 import itertools
 import unittest
 
-from mintlots import backs, lengths, lots, partings, payments, pots, purses, queues, singles, swaps
-from mintlots.errors import (InvalidAmount, InvalidDeal, InvalidNumber, InvalidPayment, InvalidPrice, InvalidPurse,
-                             InvalidQueue, InvalidText, Missed, NoEnd, NoSuchCoin, NotALot, NotFull, NotSettled, TooMany)
+from mintlots import backs, calls, lengths, lots, naming, partings, payments, pots, purses, queues, singles, swaps, views
+from mintlots.counters import Counter
+from mintlots.errors import (InvalidAmount, InvalidAmounts, InvalidCoin, InvalidDeal, InvalidNames, InvalidNumber,
+                             InvalidPayment, InvalidPrice, InvalidPurse, InvalidQueue, InvalidTellings, InvalidText,
+                             Missed, NoEnd, NoFit, NoSuchCoin, NoSuchPiece, NotALot, NotAStand, NotAView, NotFull,
+                             NotSettled, TooMany)
 from mintlots.lots import Lot
+from mintlots.views import View
 
 
 class Odd:
@@ -67,7 +71,63 @@ NO_DEAL = OTHERS + (0, 5, 10 ** 99, (), (5,), (5, 8), Lot((5, 8)), ((8,),), ((8,
                     [(8,), (1,)], ((8,), (1,), ()), ((8, 4), ()), ((8,), (1, True)), ((1,) * 13, ()))
 NO_QUEUE = tuple(value for value in OTHERS if not isinstance(value, tuple)) + (0, 5, 10 ** 99, Lot((5, 8)), [((5,), 3)])
 
+NO_TUPLE = tuple(value for value in OTHERS if not isinstance(value, tuple)) + (0, 5, 10 ** 99, Lot((5, 8)), View(()))
+NOT_A_NEW_COIN = OTHERS + (0, -3, 61, 10 ** 99, (), (3,), Lot((3,)))
+NOT_A_VIEW = OTHERS + (0, 5, 10 ** 99, (), (("paid", 7),), ("paid", 7), Lot((5, 8)), (View(()),), [View(())])
+NOT_A_TELLING = OTHERS + (0, 5, 10 ** 99, (), ("paid",), ("paid", 0), ("paid", 41), ("paid", True), ("paid", Odd()),
+                          ("ways", 5), ("ways", 5, -1), (Odd(), 5), (Odd(), Odd()), ("paid", 7, Odd()), View(()))
+NOT_LEAST = NOT_A_NUMBER + (0, 11)
+NOT_START = NOT_LEAST + (1, 3)
+NOT_A_PIECE = NOT_A_NUMBER + (0, 1001)
+NO_PIECE_THERE = OTHERS + (0, -4, 1, 5, 1000, 10 ** 99, (), (4,), Lot((4,)))
+
 ODD = Lot((3, 5, 7))
+
+SEEN = View((("paid", 7), ("missed", 11), ("ways", 14, 2)))
+
+
+def made_view(tellings):
+    return View(tellings).tellings
+
+
+def more(telling):
+    return SEEN.more(telling).tellings
+
+
+def purses_of(counter):
+    return counter.buyer, counter.seller, counter.changes
+
+
+def made_counter(buyer, seller):
+    return purses_of(Counter(buyer, seller))
+
+
+def changed(action):
+    """What a method does at a new counter, or else nothing."""
+    counter = Counter((4, 8), (1, 2))
+    try:
+        action(counter)
+    finally:
+        if not counter.changes and purses_of(counter) != ((4, 8), (1, 2), 0):
+            raise AssertionError("changed")
+    return purses_of(counter)
+
+
+def settle(deal):
+    return changed(lambda counter: counter.settle(deal=deal))
+
+
+def pay(price):
+    return changed(lambda counter: counter.pay(price=price))
+
+
+def put(piece):
+    return changed(lambda counter: counter.put(piece=piece))
+
+
+def lose(piece):
+    return changed(lambda counter: counter.lose(piece=piece))
+
 
 # For each kind of parameter: a right value, wrong ones, their error and what it must have.
 KINDS = {
@@ -94,6 +154,18 @@ KINDS = {
     "hands": (2, NOT_HANDS, InvalidNumber, "given"),
     "deal": (((8,), (1, 2)), NO_DEAL, InvalidDeal, "none"),
     "queue": ((((5,), 3), ((1, 3), 3)), NO_QUEUE, InvalidQueue, "none"),
+    "stand": (ODD, NOT_A_LOT, NotALot, "given"),
+    "names": ((2, 1), NO_TUPLE, InvalidNames, "none"),
+    "tellings": ((("paid", 7),), NO_TUPLE, InvalidTellings, "none"),
+    "telling": (("missed", 2), NOT_A_TELLING, InvalidTellings, 3),
+    "view": (SEEN, NOT_A_VIEW, NotAView, "given"),
+    "new_coin": (4, NOT_A_NEW_COIN, InvalidCoin, "given"),
+    "spare_coin": (7, NOT_A_COIN, NoSuchCoin, "given"),
+    "amounts": ((5, 6), NO_TUPLE, InvalidAmounts, "none"),
+    "least": (4, NOT_LEAST, InvalidNumber, "given"),
+    "start": (6, NOT_START, InvalidNumber, "given"),
+    "piece": (4, NOT_A_PIECE, InvalidNumber, "given"),
+    "own_piece": (4, NO_PIECE_THERE, NoSuchPiece, "given"),
 }
 
 FUNCTIONS = (
@@ -125,7 +197,21 @@ FUNCTIONS = (
     (queues.orders, "till queue"), (queues.stuck, "till queue"),
     (partings.even_partings, "purse hands"), (partings.count_even, "purse hands"),
     (partings.least_difference, "purse"), (partings.full_parting, "purse hands"), (partings.most_hands, "purse"),
+    (naming.is_won, "stand"), (naming.good_names, "stand"), (naming.end, "stand"), (naming.is_quiet, "stand"),
+    (naming.named, "stand names"), (naming.game, "stand"),
+    (made_view, "tellings"), (more, "telling"), (views.is_sound, "lot"), (views.fitting, "view"),
+    (views.can_be, "view"), (views.sure, "view small"), (views.next_sum, "view"),
+    (calls.called_in, "lot coin"), (calls.lost_sums, "lot coin=spare_coin"), (calls.struck, "lot coin=new_coin"),
+    (calls.gained_sums, "lot coin=new_coin"), (calls.kept_lots, "lot amounts"), (calls.calling_orders, "lot amounts"),
+    (calls.strikes, "lot least start"),
+    (made_counter, "buyer seller"), (settle, "deal"), (pay, "price"), (put, "piece"), (lose, "piece=own_piece"),
 )
+
+
+def kinds_of(told):
+    """For each parameter of a function its kind, which has the parameter's name if it does not stand behind it."""
+    pairs = [word.split("=") for word in told.split()]
+    return {pair[0]: KINDS[pair[-1]] for pair in pairs}
 
 
 class WrongTest(unittest.TestCase):
@@ -136,38 +222,37 @@ class WrongTest(unittest.TestCase):
         if kind == "given":
             self.assertIs(caught.exception.given, value)
         else:
-            self.assertIsNone(caught.exception.index)
+            self.assertEqual(caught.exception.index, None if kind == "none" else kind)
 
     def test_all_right(self):
         for function, told in FUNCTIONS:
-            right = {name: KINDS[name][0] for name in told.split()}
+            right = {name: kind[0] for name, kind in kinds_of(told).items()}
             self.assertEqual(function(**right), function(*right.values()))
             self.assertEqual(function(**right), function(**dict(reversed(list(right.items())))))
 
     def test_one_wrong_argument(self):
         for function, told in FUNCTIONS:
-            names = told.split()
-            for name in names:
-                _, wrong, error, kind = KINDS[name]
+            kinds = kinds_of(told)
+            for name, (_, wrong, error, kind) in kinds.items():
                 for value in wrong:
-                    values = {each: value if each == name else KINDS[each][0] for each in names}
+                    values = {each: value if each == name else kinds[each][0] for each in kinds}
                     with self.subTest(function=function.__name__, name=name, kind=type(value)):
                         self.check(lambda: function(**values), error, kind, value)
                         self.check(lambda: function(*values.values()), error, kind, value)
 
     def test_several_wrong_arguments(self):
         for function, told in FUNCTIONS:
-            names = told.split()
-            for number in range(2, len(names) + 1):
-                for bad in itertools.combinations(names, number):
-                    self.check_several(function, names, bad)
+            kinds = kinds_of(told)
+            for number in range(2, len(kinds) + 1):
+                for bad in itertools.combinations(kinds, number):
+                    self.check_several(function, kinds, bad)
 
-    def check_several(self, function, names, bad):
-        _, wrong, error, kind = KINDS[bad[0]]
-        for at in range(max(len(KINDS[name][1]) for name in bad)):
-            values = {name: KINDS[name][0] for name in names}
+    def check_several(self, function, kinds, bad):
+        _, wrong, error, kind = kinds[bad[0]]
+        for at in range(max(len(kinds[name][1]) for name in bad)):
+            values = {name: kinds[name][0] for name in kinds}
             for shift, name in enumerate(bad):
-                others = KINDS[name][1]
+                others = kinds[name][1]
                 values[name] = others[(at + 5 * shift) % len(others)]
             with self.subTest(function=function.__name__, bad=bad, at=at):
                 self.check(lambda: function(**values), error, kind, values[bad[0]])
@@ -294,6 +379,63 @@ class LastTest(unittest.TestCase):
         with self.assertRaises(TooMany) as caught:
             partings.even_partings((1,) * 12, 1)
         self.assertEqual(caught.exception.given, 12)
+
+    def test_naming(self):
+        for call in (naming.is_won, naming.good_names, naming.end, naming.is_quiet, naming.game):
+            with self.assertRaises(NoEnd) as caught:
+                call(Lot((56, 60)))
+            self.assertEqual(caught.exception.given, 4)
+            with self.assertRaises(NotAStand) as caught:
+                call(Lot((59, 60)))
+            self.assertEqual(caught.exception.given, 1711)
+        with self.assertRaises(InvalidNames):
+            naming.named(Lot((56, 60)), (4, 4))
+
+    def test_views(self):
+        nothing = View((("missed", 12),))
+        with self.assertRaises(InvalidAmount):
+            views.sure(nothing, 401)
+        with self.assertRaises(NoFit):
+            views.sure(nothing, 400)
+        with self.assertRaises(NotAView):
+            views.sure((("missed", 12),), 401)
+
+    def test_calls(self):
+        for call in (calls.called_in, calls.lost_sums):
+            with self.assertRaises(NoSuchCoin):
+                call(Lot((60,)), 1)
+            with self.assertRaises(NoEnd) as caught:
+                call(Lot((60,)), 60)
+            self.assertEqual(caught.exception.given, 60)
+        for call in (calls.struck, calls.gained_sums):
+            with self.assertRaises(InvalidCoin):
+                call(Lot(tuple(range(4, 61, 4))), 61)
+            with self.assertRaises(TooMany) as caught:
+                call(Lot(tuple(range(4, 61, 4))), 59)
+            self.assertEqual(caught.exception.given, 16)
+        with self.assertRaises(NoEnd) as caught:
+            calls.gained_sums(Lot((6, 10)), 3)
+        self.assertEqual(caught.exception.given, 2)
+        for call in (calls.kept_lots, calls.calling_orders):
+            with self.assertRaises(InvalidAmounts):
+                call(Lot(tuple(range(4, 61, 4))), (3, 3))
+            with self.assertRaises(Missed):
+                call(Lot(tuple(range(4, 61, 4))), (3, 4))
+            with self.assertRaises(TooMany):
+                call(Lot(tuple(range(4, 61, 4))), (4,))
+
+    def test_counters(self):
+        with self.assertRaises(InvalidPurse):
+            Counter((1,) * 12, [1])
+        full = Counter((1,) * 6, (1,) * 6)
+        with self.assertRaises(InvalidNumber):
+            full.put(1001)
+        with self.assertRaises(TooMany):
+            full.put(1000)
+        with self.assertRaises(InvalidPrice):
+            full.pay(10 ** 30 + 1)
+        with self.assertRaises(NotSettled):
+            full.pay(10 ** 30)
 
     def test_no_end(self):
         for call in (lots.missed, lots.count_missed, lots.last_missed):
