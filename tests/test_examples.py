@@ -65,6 +65,28 @@ raises NoEnd(given=2)
 >>> counter.put(3)
 >>> [counter.buyer, counter.seller, counter.changes, counter.undo(), counter.buyer, counter.undo(), counter.seller]
 [(1, 2, 3, 4), (8,), 2, None, (1, 2, 4), None, (1, 2)]
+>>> from mintlots.desks import Desk, played
+>>> desk = Desk()
+>>> desk.put("mint", odd)
+>>> desk.put("bag", (1, 1, 2, 3))
+>>> desk.promise(("mint", ("last", 4)))
+>>> desk.promise(("bag", ("full", 1)))
+>>> [desk.names, desk.changes, desk.log[1], played(desk.log).promises]
+[('bag', 'mint'), 4, ('put', 'bag', 'purse 1+1+2+3'), (('mint', ('last', 4)), ('bag', ('full', 1)))]
+>>> desk.put("mint", few)
+raises Broken(index=0)
+>>> from mintlots.certificates import certify_full, certify_kept, certify_least, certify_paid, certify_quiet, certify_stand, certify_sure, certify_ways
+>>> from mintlots.checker import accepts
+>>> [certify_paid(few, 27), certify_ways(few, 10), certify_full((1, 2, 5), 0), certify_stand(Lot((2, 3))), certify_quiet(few)]
+[(('missed', '5 8', 27), (5, (0, 16, 32, 8, 24))), (('ways', '5 8', 10, 1), ((1, 0, 0, 0, 0, 1, 0, 0, 0, 0, 1), (1, 0, 0, 0, 0, 1, 0, 0, 1, 0, 1))), (('not full', (1, 2, 5), 0), ((), 4)), (('lost', '2 3'), ((2, 3),)), (('quiet', '5 8'), ())]
+>>> [accepts(("paid", "5 8", 83), (7, 6)), accepts(("least", "5 8", 10, 2), ((2, 0), (0, None, None, None, None, 1, None, None, 1, None, 2))), accepts(("won", "4 5"), ((2, 3),)), accepts(("quiet", "2 3"), ())]
+[True, True, False, False]
+>>> from mintlots.console import Console
+>>> console = Console((4, 8), (1, 2))
+>>> [console.say("deal 5"), console.say("pay 5"), console.say("buyer"), console.say("reach"), console.say("undo"), console.say("full 0"), console.say("least 29 3,5,7"), console.say("good 4,5"), console.say("ways -3")]
+['8 1+2', 'ok', '1+2+4', '7', 'ok', 'yes', '5', '11', '1']
+>>> console.say("lose 9")
+raises NoSuchPiece(given=9)
 """
 
 
@@ -91,7 +113,7 @@ class ExamplesTest(unittest.TestCase):
             with self.subTest(line=line):
                 self.assertEqual(shown(line[4:], names), after)
             checked += 1
-        self.assertEqual(checked, 21)
+        self.assertEqual(checked, 27)
 
 
 if __name__ == "__main__":

@@ -8,8 +8,8 @@ import sys
 import unittest
 
 import mintlots
-from mintlots import (backs, calls, counters, lengths, lots, naming, partings, payments, pots, purses, queues, singles,
-                      swaps, views)
+from mintlots import (backs, calls, certificates, checker, console, counters, desks, lengths, lots, naming, partings, payments,
+                      pots, purses, queues, singles, swaps, views)
 
 FOLDER = pathlib.Path(mintlots.__file__).parent
 FILES = sorted(path for path in FOLDER.rglob("*") if path.is_file() and "__pycache__" not in path.parts)
@@ -54,6 +54,12 @@ INTERFACE = {
     views: "sound_lots() is_sound(lot) fitting(view) can_be(view) sure(view,small) next_sum(view)",
     calls: "called_in(lot,coin) lost_sums(lot,coin) struck(lot,coin) gained_sums(lot,coin) kept_lots(lot,amounts) "
            "calling_orders(lot,amounts) strikes(lot,least,start)",
+    desks: "played(log)",
+    checker: "accepts(claim,paper)",
+    certificates: "certify_paid(lot,amount) certify_last(lot) certify_ways(lot,small) certify_least(lot,amount) "
+                  "certify_most(lot,amount) certify_lag(one,other) certify_moved(lot,price) certify_full(purse,lost) "
+                  "certify_price(buyer,seller,price) certify_stand(stand) certify_quiet(stand) certify_fit(view,lot) "
+                  "certify_sure(view,small) certify_kept(lot,amounts,some)",
 }
 
 # For each class its parameters, its methods and its properties.
@@ -62,6 +68,9 @@ CLASSES = {
     views.View: ("tellings", "more(telling)", "tellings"),
     counters.Counter: ("buyer,seller", "settle(deal) pay(price) swap() put(piece) lose(piece) undo() trial() tried(action)",
                        "buyer seller changes"),
+    desks.Desk: ("", "put(name,thing) named(name) drop(name) promise(wish) lift(index) undo() trial() tried(action)",
+                 "names promises changes log"),
+    console.Console: ("buyer,seller", "say(command)", "counter"),
 }
 
 

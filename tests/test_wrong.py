@@ -3,12 +3,16 @@
 import itertools
 import unittest
 
-from mintlots import backs, calls, lengths, lots, naming, partings, payments, pots, purses, queues, singles, swaps, views
+from mintlots import (backs, calls, certificates, lengths, lots, naming, partings, payments, pots, purses, queues, singles,
+                      swaps, views)
+from mintlots.console import Console
 from mintlots.counters import Counter
-from mintlots.errors import (InvalidAmount, InvalidAmounts, InvalidCoin, InvalidDeal, InvalidNames, InvalidNumber,
-                             InvalidPayment, InvalidPrice, InvalidPurse, InvalidQueue, InvalidTellings, InvalidText,
-                             Missed, NoEnd, NoFit, NoSuchCoin, NoSuchPiece, NotALot, NotAStand, NotAView, NotFull,
-                             NotSettled, TooMany)
+from mintlots.desks import Desk, played
+from mintlots.errors import (Broken, InUse, InvalidAmount, InvalidAmounts, InvalidCoin, InvalidCommand, InvalidDeal,
+                             InvalidLog, InvalidName, InvalidNames, InvalidNumber, InvalidPayment, InvalidPrice,
+                             InvalidPurse, InvalidQueue, InvalidTellings, InvalidText, InvalidWish, Missed, NoEnd, NoFit,
+                             NoSuchCoin, NoSuchPiece, NotALot, NotAStand, NotAThing, NotAView, NotFull, NotSettled, TooMany,
+                             UnknownName)
 from mintlots.lots import Lot
 from mintlots.views import View
 
@@ -79,6 +83,16 @@ NOT_A_TELLING = OTHERS + (0, 5, 10 ** 99, (), ("paid",), ("paid", 0), ("paid", 4
 NOT_LEAST = NOT_A_NUMBER + (0, 11)
 NOT_START = NOT_LEAST + (1, 3)
 NOT_A_PIECE = NOT_A_NUMBER + (0, 1001)
+NOT_A_NAME = tuple(value for value in OTHERS if not isinstance(value, str)) + (
+    0, 5, (), ("mint",), Lot((5, 8)), "", "A", "a b", "a1", "ninechars", "a\n")
+NOT_THERE = NOT_A_NAME + ("other", "min", "mints")
+NOT_A_THING = OTHERS + (0, 5, 10 ** 99, (2, 1), (0,), (True,), (Odd(),), (1,) * 13, [1, 2], View(()))
+NOT_A_WISH = OTHERS + (0, 5, 10 ** 99, (), ("won",), ("mint", Odd()), ("mint", (Odd(),)), ("mint", ("pays", Odd())),
+                       (Odd(), Odd()), (Odd(), "mint", "mint"), ("reach", "bag", "bag", Odd()), (["mint"], ("won",)),
+                       ("within", {}, Odd()), ("mint", ("won", 1)), ("mint", ("ways", 5, True)), ["mint", ("won",)])
+NO_SUCH_PROMISE = NOT_A_NUMBER + (1, 2)
+NO_COMMAND = tuple(value for value in OTHERS if not isinstance(value, str)) + (
+    0, 5, 10 ** 99, (), ("undo",), Lot((5, 8)), "", "pay", "pay  5", "pay 05", "Undo", "x" * 4000)
 NO_PIECE_THERE = OTHERS + (0, -4, 1, 5, 1000, 10 ** 99, (), (4,), Lot((4,)))
 
 ODD = Lot((3, 5, 7))
@@ -129,6 +143,54 @@ def lose(piece):
     return changed(lambda counter: counter.lose(piece=piece))
 
 
+def on_a_desk(action):
+    """What a method does at a new desk, or else nothing."""
+    desk = Desk()
+    desk.put("mint", ODD)
+    desk.put("bag", (1, 1, 2, 3))
+    desk.promise(("mint", ("won",)))
+    before = desk.log
+    try:
+        told = action(desk)
+    except Exception:
+        if desk.log != before:
+            raise AssertionError("changed") from None
+        raise
+    return told, desk.names, desk.promises, desk.log
+
+
+def put_on_a_desk(name, thing):
+    return on_a_desk(lambda desk: desk.put(name=name, thing=thing))
+
+
+def named_on_a_desk(name):
+    return on_a_desk(lambda desk: desk.named(name=name))
+
+
+def drop(name):
+    return on_a_desk(lambda desk: desk.drop(name=name))
+
+
+def promise(wish):
+    return on_a_desk(lambda desk: desk.promise(wish=wish))
+
+
+def lift(index):
+    return on_a_desk(lambda desk: desk.lift(index=index))
+
+
+def played_log(log):
+    return played(log=log).log
+
+
+def say(command):
+    return Console((4, 8), (1, 2)).say(command=command)
+
+
+def made_console(buyer, seller):
+    return purses_of(Console(buyer, seller).counter)
+
+
 # For each kind of parameter: a right value, wrong ones, their error and what it must have.
 KINDS = {
     "lot": (ODD, NOT_A_LOT, NotALot, "given"),
@@ -166,6 +228,14 @@ KINDS = {
     "start": (6, NOT_START, InvalidNumber, "given"),
     "piece": (4, NOT_A_PIECE, InvalidNumber, "given"),
     "own_piece": (4, NO_PIECE_THERE, NoSuchPiece, "given"),
+    "some": (Lot((5, 7)), NOT_A_LOT, NotALot, "given"),
+    "name": ("mint", NOT_A_NAME, InvalidName, "given"),
+    "there": ("bag", NOT_THERE, UnknownName, "given"),
+    "thing": (Lot((4, 5)), NOT_A_THING, NotAThing, "given"),
+    "wish": (("bag", ("full", 1)), NOT_A_WISH, InvalidWish, "given"),
+    "promised": (0, NO_SUCH_PROMISE, InvalidNumber, "given"),
+    "log": ((("put", "a", "purse -"),), NO_TUPLE, InvalidLog, "none"),
+    "command": ("pay 5", NO_COMMAND, InvalidCommand, "given"),
 }
 
 FUNCTIONS = (
@@ -205,6 +275,16 @@ FUNCTIONS = (
     (calls.gained_sums, "lot coin=new_coin"), (calls.kept_lots, "lot amounts"), (calls.calling_orders, "lot amounts"),
     (calls.strikes, "lot least start"),
     (made_counter, "buyer seller"), (settle, "deal"), (pay, "price"), (put, "piece"), (lose, "piece=own_piece"),
+    (put_on_a_desk, "name thing"), (named_on_a_desk, "name=there"), (drop, "name=there"), (promise, "wish"),
+    (lift, "index=promised"), (played_log, "log"),
+    (certificates.certify_paid, "lot amount"), (certificates.certify_last, "lot"),
+    (certificates.certify_ways, "lot small"), (certificates.certify_least, "lot amount"),
+    (certificates.certify_most, "lot amount"), (certificates.certify_lag, "one other"),
+    (certificates.certify_moved, "lot price"), (certificates.certify_full, "purse lost"),
+    (certificates.certify_price, "buyer seller price"), (certificates.certify_stand, "stand"),
+    (certificates.certify_quiet, "stand"), (certificates.certify_fit, "view lot"),
+    (certificates.certify_sure, "view small"), (certificates.certify_kept, "lot amounts some"),
+    (made_console, "buyer seller"), (say, "command"),
 )
 
 
@@ -436,6 +516,35 @@ class LastTest(unittest.TestCase):
             full.pay(10 ** 30 + 1)
         with self.assertRaises(NotSettled):
             full.pay(10 ** 30)
+
+    def test_desks(self):
+        desk = Desk()
+        desk.put("mint", ODD)
+        desk.promise(("mint", ("won",)))
+        for call, error, value in ((lambda: desk.put("Mint", None), InvalidName, "Mint"),
+                                   (lambda: desk.put("mint", None), NotAThing, None),
+                                   (lambda: desk.put("mint", Lot((2, 3))), Broken, 0),
+                                   (lambda: desk.drop("nobody"), UnknownName, "nobody"),
+                                   (lambda: desk.drop("mint"), InUse, 0),
+                                   (lambda: desk.promise(("within", "other", "nobody")), UnknownName, "other"),
+                                   (lambda: desk.promise(("within", "mint", "nobody")), UnknownName, "nobody"),
+                                   (lambda: desk.promise(("reach", "mint", "mint", 0)), Broken, 1)):
+            with self.assertRaises(error) as caught:
+                call()
+            self.assertEqual(list(vars(caught.exception).values()), [value])
+        self.assertEqual(desk.changes, 2)
+
+    def test_certificates(self):
+        many = Lot(tuple(range(4, 61, 4)))
+        for call, error in ((lambda: certificates.certify_kept(many, (3, 3), None), InvalidAmounts),
+                            (lambda: certificates.certify_kept(many, (3,), None), NotALot),
+                            (lambda: certificates.certify_kept(many, (3,), many), Missed),
+                            (lambda: certificates.certify_kept(many, (4,), many), TooMany),
+                            (lambda: certificates.certify_price((1,) * 7, (1,) * 6, "1"), InvalidPrice),
+                            (lambda: certificates.certify_price((1,) * 7, (1,) * 6, 1), TooMany),
+                            (lambda: certificates.certify_stand(Lot((56, 60))), NoEnd),
+                            (lambda: certificates.certify_quiet(Lot((59, 60))), NotAStand)):
+            self.assertRaises(error, call)
 
     def test_no_end(self):
         for call in (lots.missed, lots.count_missed, lots.last_missed):
