@@ -28,31 +28,25 @@ CLAIMS = {
 }
 
 
-def is_great(value):
-    """Whether it is a great sum."""
-    return is_between(value, 0, MOST_AMOUNT)
-
-
-def is_step(value):
-    """Whether it is a sum that going on step by step still reaches."""
-    return is_between(value, 0, MOST_STEP)
-
-
-def is_lost(value):
-    """Whether it is a number of pieces that a purse can lose."""
-    return is_between(value, 0, MOST_PIECES - 1)
-
-
-def is_word(value):
-    """Whether it is what can be sure of a sum."""
+def is_told(kind, value):
+    """Whether a value is of a kind that stands in a claim as it is."""
+    if kind == "great":
+        return is_between(value, 0, MOST_AMOUNT)
+    if kind == "step":
+        return is_between(value, 0, MOST_STEP)
+    if kind == "small":
+        return is_small(value)
+    if kind == "number":
+        return is_number(value)
+    if kind == "integer":
+        return is_integer(value)
+    if kind == "price":
+        return is_price(value)
+    if kind == "purse":
+        return is_purse(value)
+    if kind == "lost":
+        return is_between(value, 0, MOST_PIECES - 1)
     return isinstance(value, str) and value in ("paid", "missed")
-
-
-# What stands in a claim as it is; anything else is read.
-TOLD = {
-    "great": is_great, "step": is_step, "small": is_small, "number": is_number, "integer": is_integer,
-    "price": is_price, "purse": is_purse, "lost": is_lost, "word": is_word,
-}
 
 
 def read_lot(value):
@@ -80,6 +74,7 @@ def read_sums(value):
     return value
 
 
+# How the kinds are read that do not stand in a claim as they are, or only if all their parts go together.
 READ = {"lot": read_lot, "view": read_view, "sums": read_sums}
 
 
@@ -88,8 +83,7 @@ def read_part(kind, value):
     if kind in READ:
         reader = READ[kind]
         return reader(value)
-    check = TOLD[kind]
-    return value if check(value) else None
+    return value if is_told(kind, value) else None
 
 
 def read_claim(claim):

@@ -2,8 +2,9 @@
 
 import random
 import unittest
+import unittest.mock
 
-from mintlots import backs, calls, lengths, lots, naming, payments, pots, purses, views
+from mintlots import backs, calls, certificates, lengths, lots, naming, payments, pots, purses, views
 from mintlots.certificates import (certify_fit, certify_full, certify_kept, certify_lag, certify_last, certify_least,
                                    certify_most, certify_moved, certify_paid, certify_price, certify_quiet,
                                    certify_stand, certify_sure, certify_ways)
@@ -89,6 +90,15 @@ class LotTest(CertificateCase):
         self.assertGreater(seen["none"], 10)
         self.check(certify_lag(Lot((1, 7)), Lot((1, 3, 7))), ("behind", "1 7", "1 3 7", 6, 4))
         self.check(certify_lag(other=Lot((5, 8)), one=Lot((5, 8))), ("behind", "5 8", "5 8", 0, 0))
+
+    def test_lag_at_a_great_sum(self):
+        # No lag is known at a sum above 4000; so the limit is taken lower.
+        one, other = Lot((53, 60)), Lot((59,))
+        self.assertEqual(lengths.lag(one, other), (6, 3127))
+        with unittest.mock.patch.object(certificates, "MOST_STEP", 3127):
+            self.check(certify_lag(one, other), ("behind", "53 60", "59", 3127, 6))
+        with unittest.mock.patch.object(certificates, "MOST_STEP", 3126):
+            self.assertIsNone(certify_lag(one, other))
 
     def test_moved(self):
         for coins in TRIED_COINS:

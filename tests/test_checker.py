@@ -7,47 +7,10 @@ from mintlots.checker import accepts
 from mintlots.lots import Lot
 from mintlots.views import View
 from tests import plain_claims
+from tests.odd import Odd, Same, nested
 from tests.plain_claims import changed, is_right, some_source
 
 MOST = 10 ** 30
-
-
-class Odd:
-    """A value that must not be compared, counted or shown."""
-
-    def __eq__(self, other):
-        raise AssertionError("compared")
-
-    def __bool__(self):
-        raise AssertionError("tested")
-
-    def __len__(self):
-        raise AssertionError("counted")
-
-    def __int__(self):
-        raise AssertionError("taken for a number")
-
-    def __iter__(self):
-        raise AssertionError("gone through")
-
-
-class Same:
-    """A value that says that it is equal to all others."""
-
-    def __eq__(self, other):
-        return True
-
-    def __lt__(self, other):
-        return True
-
-    __le__ = __gt__ = __ge__ = __lt__
-
-
-def nested(depth):
-    value = ()
-    for _ in range(depth):
-        value = (value,)
-    return value
 
 
 WRONG = (None, True, False, 0, 1, -1, 10 ** 99, "", "paid", "5 8", "5  8", b"5 8", (), (1,), ((),), [], [1], {}, {"a": 1},
@@ -223,6 +186,64 @@ class BoundsTest(unittest.TestCase):
             paper = ((8, 10 ** 10 - 5), (0,) * 8)
             self.assertIs(accepts(("great least", "5 8", 8 * 10 ** 10, 10 ** 10 + number - 5), paper), False)
         self.assertIs(accepts(("great least", "5 8", 8 * 10 ** 10, 10 ** 10 + 3), ((8, 10 ** 10 - 5), (0,) * 8)), False)
+
+
+    def test_one_coin_more_or_less(self):
+        half = 10 ** 9
+        for claim, paper, known in (
+                (("great least", "1 2", 2 * half, half), ((0, half), (0, 1)), True),
+                (("great least", "1 2", 2 * half, half + 1), ((2, half - 1), (0, 1)), False),
+                (("great least", "1 2", 2 * half + 1, half + 1), ((1, half), (0, 1)), True),
+                (("great least", "1 2", 2 * half + 1, half + 2), ((3, half - 1), (0, 1)), False),
+                (("great least", "1 2", 2 * half + 1, half + 2), ((3, half - 1), (0, 3)), False),
+                (("great most", "2 3", 6 * half, 3 * half), ((3 * half, 0), (0, 1)), True),
+                (("great most", "2 3", 6 * half, 3 * half - 1), ((3 * half - 3, 2), (0, 1)), False),
+                (("great most", "2 3", 6 * half + 1, 3 * half), ((3 * half - 1, 1), (0, 1)), True),
+                (("great most", "2 3", 6 * half + 1, 3 * half - 1), ((3 * half - 4, 3), (0, 1)), False),
+                (("great most", "1 2", half, half), ((half, 0), (0,)), True),
+                (("great most", "1 2", half, half - 1), ((half - 2, 1), (0,)), False)):
+            with self.subTest(claim=claim):
+                self.assertIs(is_right(claim, paper), known)
+                self.assertIs(accepts(claim, paper), known)
+
+
+class EdgesTest(unittest.TestCase):
+    def check(self, claim, paper, known):
+        self.assertIs(is_right(claim, paper), known, (claim, paper))
+        self.assertIs(accepts(claim, paper), known, (claim, paper))
+
+    def test_payments_of_other_lengths(self):
+        row = certificates.certify_least(Lot((3, 5, 7)), 15)[1][1]
+        for payment, known in (((0, 3, 0), True), ((1, 1, 1), True), ((5, 0, 0), False)):
+            self.check(("least", "3 5 7", 15, 3), (payment, row), known)
+        row = certificates.certify_most(Lot((3, 5, 7)), 15)[1][1]
+        for payment, known in (((0, 3, 0), False), ((1, 1, 1), False), ((5, 0, 0), True)):
+            self.check(("most", "3 5 7", 15, 5), (payment, row), known)
+        self.check(("least", "3 5 7", 15, 5), ((5, 0, 0), row), False)
+        one = certificates.certify_least(Lot((3, 5, 7)), 15)[1]
+        self.check(("behind", "3 5 7", "3 5 7", 15, 0), (one, one), True)
+        self.check(("behind", "3 5 7", "3 5 7", 15, 0), (((5, 0, 0), one[1]), one), False)
+        self.check(("behind", "3 5 7", "3 5 7", 15, 2), (((5, 0, 0), one[1]), one), False)
+
+    def test_twelve_pieces_together(self):
+        self.check(("price", (1,) * 6, (2,) * 6, 4), ((1,) * 4, ()), True)
+        self.check(("no price", (2,) * 6, (2,) * 6, 3), (), True)
+        self.check(("no price", (2,) * 6, (2,) * 6, 4), (), False)
+        self.check(("no price", (2,) * 6, (2,) * 7, 3), (), False)
+
+    def test_stands_of_papers(self):
+        self.check(("lost", "2 3"), ((2, 3),), True)
+        for paper in (((2, 3, 4),), ((2, 3), (2, 3, 4)), ((2, 3), (2, 3)), ((2, 3), (1,)), ((1,), (2, 3)), ((1, 2), (2, 3)),
+                      ((2, 3), (4, 5)), ((2, 3), (4, 6)), ((2, 3), (59, 60)), ((2, 3), ()), ((), (2, 3)), ((3, 2),), ((2, 2, 3),),
+                      ((2, 3), (2,)), ((2, 3), (2, 61)), (2, 3), ((2, True),), ([2, 3],)):
+            self.check(("lost", "2 3"), paper, False)
+        lost = certificates.certify_stand(Lot((4, 5, 11)))
+        self.assertEqual(lost[0][0], "lost")
+        self.check(*lost, True)
+        self.check(lost[0], lost[1][::-1], False)
+        self.check(lost[0], lost[1] + ((2, 3),), False)
+        for at in range(len(lost[1])):
+            self.check(lost[0], lost[1][:at] + lost[1][at + 1:], False)
 
 
 class AnyValuesTest(unittest.TestCase):

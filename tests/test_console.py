@@ -13,6 +13,7 @@ from mintlots.payments import count_payments
 from mintlots.pots import deal_for, pot, prices, reach, ways_to_settle
 from mintlots.purses import as_text, held, is_full
 from tests import plain, plain_purses
+from tests.odd import Odd
 
 RIGHT = ("pay 5", "pay -2", "pay 0", "settle 8 1+2", "settle - -", "swap", "put 7", "put 1000", "lose 4", "undo", "buyer",
          "seller", "pot", "reach", "ways 5", "ways -3", "ways 99999", "ways -99999", "deal 5", "deal 0", "full 0", "full 11",
@@ -32,19 +33,6 @@ WRONG = (
     "missed " + ",".join(map(str, range(1, 17))), "won", "won 5,x", "won x", "good", "good ,", "good 5, 8", "help", "trial",
     "undo undo", "none", "ok", "5", "-", "pay \t5", "pay 5 # rest", "pay" * 1000, "pay " + "1" * 3900, "9" * 4000,
 )
-
-
-class Odd:
-    """A value that must not be compared, counted or shown."""
-
-    def __eq__(self, other):
-        raise AssertionError("compared")
-
-    def __str__(self):
-        raise AssertionError("shown")
-
-    def __len__(self):
-        raise AssertionError("counted")
 
 
 NO_TEXT = (None, True, False, 0, 5, 10 ** 99, b"pay 5", ("pay", 5), ["pay 5"], {"pay": 5}, {5}, (), [], object(), Odd(), Lot((5, 8)),

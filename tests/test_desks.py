@@ -9,6 +9,7 @@ from mintlots.errors import (Broken, InUse, InvalidName, InvalidNumber, InvalidW
 from mintlots.lots import Lot
 from mintlots.views import View
 from tests import plain, plain_claims, plain_purses
+from tests.odd import Same
 
 FEW = Lot((5, 8))
 ODD = Lot((3, 5, 7))
@@ -37,15 +38,6 @@ NO_WISH = (None, True, 5, "won", [], {}, (), ("won",), ("mint",), ("mint", "won"
 
 class Trouble(Exception):
     """What only the tests raise."""
-
-
-class Same:
-    """A value that says that it is equal to all others."""
-
-    def __eq__(self, other):
-        return True
-
-    __hash__ = None
 
 
 def state(desk):

@@ -93,12 +93,14 @@ def bound_names(tree):
     return names
 
 
-class FormTest(unittest.TestCase):
-    def each_node(self):
-        for path in FILES:
-            for node in ast.walk(tree_of(path)):
-                yield path.name, node
+def each_node():
+    """Each node of each file, with the file's name."""
+    for path in FILES:
+        for node in ast.walk(tree_of(path)):
+            yield path.name, node
 
+
+class FormTest(unittest.TestCase):
     def test_only_plain_files(self):
         for path in FILES:
             self.assertRegex(path.name, r"\A[a-z0-9_]+\.py\Z")
@@ -113,12 +115,12 @@ class FormTest(unittest.TestCase):
             self.assertLessEqual(max(map(len, lines)), 120, path)
 
     def test_small_functions(self):
-        for name, node in self.each_node():
+        for name, node in each_node():
             if isinstance(node, ast.FunctionDef):
                 self.assertLessEqual(node.end_lineno - node.lineno + 1, 40, (name, node.name))
 
     def test_imports(self):
-        for name, node in self.each_node():
+        for name, node in each_node():
             self.assertNotIsInstance(node, ast.Import, name)
             if isinstance(node, ast.ImportFrom):
                 self.assertEqual(node.level, 0)
@@ -165,13 +167,13 @@ class FormTest(unittest.TestCase):
                 self.assertNotIn(word, BARRED, path)
 
     def test_methods(self):
-        own = {node.name for _, node in self.each_node() if isinstance(node, ast.FunctionDef)}
-        for name, node in self.each_node():
+        own = {node.name for _, node in each_node() if isinstance(node, ast.FunctionDef)}
+        for name, node in each_node():
             if isinstance(node, ast.Call) and isinstance(node.func, ast.Attribute):
                 self.assertIn(node.func.attr, METHODS | own, name)
 
     def test_expressions(self):
-        for name, node in self.each_node():
+        for name, node in each_node():
             self.assertNotIsInstance(node, (ast.Div, ast.Global, ast.AsyncFunctionDef, ast.Await), name)
             if isinstance(node, ast.Constant):
                 self.assertNotIsInstance(node.value, (float, complex), name)
@@ -196,6 +198,85 @@ class FormTest(unittest.TestCase):
                     self.assertIsInstance(node, ast.Expr, path)
                     continue
                 self.assertIsInstance(node, (ast.ImportFrom, ast.FunctionDef, ast.ClassDef, ast.Assign), path)
+
+
+class TablesTest(unittest.TestCase):
+    def test_tables_have_plain_values_and_functions_of_their_file(self):
+        for path in FILES:
+            tree = tree_of(path)
+            functions = {part.name: part.lineno for part in tree.body if isinstance(part, ast.FunctionDef)}
+            for part in tree.body:
+                if isinstance(part, ast.Assign):
+                    for node in ast.walk(part.value):
+                        self.assertNotIsInstance(node, (ast.Call, ast.Attribute, ast.Subscript, ast.Set), path)
+                        if isinstance(node, ast.Name):
+                            self.assertLess(functions[node.id], part.lineno, path)
+
+    def test_tables_are_only_read(self):
+        for path in FILES:
+            tree = tree_of(path)
+            tables = {part.targets[0].id for part in tree.body
+                      if isinstance(part, ast.Assign) and isinstance(part.value, (ast.Dict, ast.List))}
+            above = {child: node for node in ast.walk(tree) for child in ast.iter_child_nodes(node)}
+            for node in above:
+                if isinstance(node, ast.Name) and node.id in tables and isinstance(node.ctx, ast.Load):
+                    use = above[node]
+                    self.assertIsInstance(use, (ast.Subscript, ast.Compare, ast.Attribute), path)
+                    if isinstance(use, ast.Attribute):
+                        self.assertEqual(use.attr, "get", path)
+
+    def test_trials_end_plainly(self):
+        found = [node for path in FILES for node in ast.walk(tree_of(path))
+                 if isinstance(node, ast.FunctionDef) and node.name == "__exit__"]
+        self.assertEqual(len(found), 1)
+        for node in ast.walk(found[0]):
+            self.assertNotIsInstance(node, (ast.Call, ast.Subscript, ast.BinOp, ast.For, ast.While, ast.Try))
+
+
+class RowsTest(unittest.TestCase):
+    def test_caught_errors_are_own_ones(self):
+        own = {part.name for part in tree_of(FOLDER / "errors.py").body if isinstance(part, ast.ClassDef)}
+        for name, node in each_node():
+            if isinstance(node, ast.ExceptHandler):
+                told = node.type.elts if isinstance(node.type, ast.Tuple) else [node.type]
+                self.assertLessEqual({one.id for one in told}, own, name)
+            if isinstance(node, ast.Raise):
+                self.assertIn(node.exc.func.id, own, name)
+
+    def test_what_is_iterated_at_once(self):
+        lazy = {"zip", "enumerate", "reversed", "range"}
+        for path in FILES:
+            tree = tree_of(path)
+            above = {child: node for node in ast.walk(tree) for child in ast.iter_child_nodes(node)}
+            for node in above:
+                if not isinstance(node, ast.Call):
+                    continue
+                plain = isinstance(node.func, ast.Name) and node.func.id in lazy
+                view = isinstance(node.func, ast.Attribute) and node.func.attr in ("items", "values", "keys")
+                if not plain and not view:
+                    continue
+                use = above[node]
+                if isinstance(use, (ast.For, ast.comprehension)):
+                    self.assertIs(use.iter, node)
+                    continue
+                self.assertIsInstance(use, ast.Call, path)
+                self.assertIn(use.func.id, ("list", "tuple", "enumerate"), path)
+
+    def test_barred_words_stand_nowhere(self):
+        words = re.compile(r"\b(typ[e]|typing|enum|Flag|Protocol|ABC|namedtuple|abstractmethod)\b")
+        for path in FILES:
+            for node in ast.walk(tree_of(path)):
+                if isinstance(node, (ast.Name, ast.Attribute, ast.arg, ast.keyword)):
+                    told = [getattr(node, key, None) for key in ("id", "attr", "arg")]
+                    self.assertFalse(any(word and words.fullmatch(word) for word in told), path)
+
+    def test_names_are_plain(self):
+        allowed = {"__init__", "__eq__", "__str__", "__len__", "__bool__", "__enter__", "__exit__"}
+        for name, node in each_node():
+            if isinstance(node, (ast.FunctionDef, ast.ClassDef)):
+                self.assertTrue(node.name in allowed or re.fullmatch(r"_?[A-Za-z][A-Za-z0-9_]*", node.name), name)
+                if not node.name.startswith("_"):
+                    self.assertIsNotNone(ast.get_docstring(node), (name, node.name))
 
 
 def names_and_parameters(told):

@@ -6,6 +6,7 @@ from mintlots.errors import InvalidTellings, NoFit
 from mintlots.lots import Lot
 from mintlots.views import View, can_be, fitting, is_sound, next_sum, sound_lots, sure
 from tests import plain, plain_stands
+from tests.odd import Same
 from tests.plain_stands import plain_tellings, some_tellings, sound_coins
 
 KINDS = (("paid", 7), ("missed", 11), ("ways", 14, 2), ("least", 40, 3), ("most", 1, 0))
@@ -19,13 +20,6 @@ NO_TELLINGS = (
     ("Paid", 7), ("open", 7), ("", 7), (None, 7), (True, 7), (("paid", 7), 7), (5, 7), (["paid"], 7), ({}, 7),
     Lot((5, 8)), object(), View(()), (View(()), 5), ("ways", 5, Lot((5,))),
 )
-
-
-class Same:
-    """A value that says that it is equal to all others."""
-
-    def __eq__(self, other):
-        return True
 
 
 class ViewTest(unittest.TestCase):

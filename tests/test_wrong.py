@@ -15,35 +15,7 @@ from mintlots.errors import (Broken, InUse, InvalidAmount, InvalidAmounts, Inval
                              UnknownName)
 from mintlots.lots import Lot
 from mintlots.views import View
-
-
-class Odd:
-    """A value that must not be compared, counted or shown."""
-
-    def __eq__(self, other):
-        raise AssertionError("compared")
-
-    def __bool__(self):
-        raise AssertionError("tested")
-
-    def __len__(self):
-        raise AssertionError("counted")
-
-    def __int__(self):
-        raise AssertionError("taken for a number")
-
-    def __index__(self):
-        raise AssertionError("taken for a number")
-
-    def __iter__(self):
-        raise AssertionError("gone through")
-
-
-def nested(depth):
-    value = ()
-    for _ in range(depth):
-        value = (value,)
-    return value
+from tests.odd import Odd, nested
 
 
 class LooksLikeALot:
